@@ -1,0 +1,1 @@
+"""Coheir: any number of caches, and what programs see."""

@@ -1,0 +1,119 @@
+"""The moves that the checker makes by itself: with numbered caches, and with marks."""
+
+
+def state_led_to(table, count, moves):
+    """Return the state to which a play leads, or None if some move is not allowed."""
+    state = (0, 0, tuple([(0, -1)] * count))
+    for move in moves:
+        if state is not None:
+            state = state_behind(table, state, move)
+    return state
+
+
+def state_behind(table, state, move):
+    """Return the state behind a move, or None if it is not allowed."""
+    if len(move) == 4 and move[0] == "row":
+        return behind_row(table, state, move)
+    if len(move) == 3 and move[0] == "store":
+        return behind_store(table, state, move)
+    if len(move) == 2 and move[0] == "load" and right_of(table, state, move[1]) > 0:
+        return state
+    return None
+
+
+def is_place(number, entries):
+    """Tell whether an integer is the place of one of some entries."""
+    return type(number) is int and 0 <= number < len(entries)
+
+
+def right_of(table, state, number):
+    """Return the right of the cache with this number, 0 if there is none."""
+    caches = state[2]
+    return table[0][caches[number][0]] if is_place(number, caches) else 0
+
+
+def behind_store(table, state, move):
+    """Return the state behind a store, or None."""
+    _, number, value = move
+    if right_of(table, state, number) != 2 or type(value) is not int or value < 1:
+        return None
+    home, copy, caches = state
+    stored = list(caches)
+    stored[number] = (caches[number][0], value)
+    return (home, copy, tuple(stored))
+
+
+def behind_row(table, state, move):
+    """Return the state behind a row, or None."""
+    _, row, maker, partner = move
+    home, copy, caches = state
+    if not is_place(row, table[2]) or not is_place(maker, caches):
+        return None
+    wanted, own, other, home2, own2, other2, others, source, back = table[2][row]
+    if (home, caches[maker][0]) != (wanted, own):
+        return None
+    told = -1
+    found = [(others[at], held) for at, held in caches]
+    if other == -1:
+        if partner != -1:
+            return None
+    else:
+        if not is_place(partner, caches) or partner == maker or caches[partner][0] != other:
+            return None
+        told = caches[partner][1]
+        found[partner] = (other2, told)
+    mine = caches[maker][1]
+    found[maker] = (own2, sent(source, mine, copy, told))
+    return (home2, sent_back(back, mine, copy, told), tuple(found))
+
+
+def sent(source, mine, homes, partners):
+    """Return the copy, or the mark, that the cache that makes a row has behind it."""
+    if source == "home":
+        return homes
+    return partners if source == "other" else mine
+
+
+def sent_back(back, mine, homes, partners):
+    """Return the copy, or the mark, that the home has behind a row."""
+    if back == "own":
+        return mine
+    return partners if back == "other" else homes
+
+
+def acts_in(table, stand, kinds):
+    """Return the list of the acts in a stand: the moves of caches of these kinds with what they do.
+
+    An act is a tuple of the stand behind it, the kinds of the caches that make it, the kinds
+    that these have behind it, and the dict that has for each kind what others of it become.
+    """
+    found = []
+    for row in table[2]:
+        if row[0] == stand[0]:
+            for own in kinds:
+                if own[0] == row[1]:
+                    found.extend([row_act(row, stand, own, other, kinds) for other in partners_of(row, kinds)])
+    for kind in kinds:
+        if table[0][kind[0]] == 2:
+            images = {other: (other[0], 0) for other in kinds}
+            found.append(((stand[0], 0), [kind], [(kind[0], 1)], images))
+    return found
+
+
+def partners_of(row, kinds):
+    """Return the list of the kinds that the partner of a row may have, with None for no partner."""
+    if row[2] == -1:
+        return [None]
+    return [kind for kind in kinds if kind[0] == row[2]]
+
+
+def row_act(row, stand, own, other, kinds):
+    """Return what a row does that is made by a cache of a kind, with a partner of a kind or None."""
+    home2, own2, other2, others, source, back = row[3:]
+    images = {kind: (others[kind[0]], kind[1]) for kind in kinds}
+    mark = 0 if other is None else other[1]
+    behind = (home2, sent_back(back, own[1], stand[1], mark))
+    mine = (own2, sent(source, own[1], stand[1], mark))
+    if other is None:
+        return (behind, [own], [mine], images)
+    return (behind, [own, other], [mine, (other2, mark)], images)

@@ -1,0 +1,110 @@
+"""From plays with numbered caches to heaps, and back."""
+
+from coheir.copies import copies_behind
+from coheir.effects import effect_of
+from coheir.errors import BadNumber
+from coheir.ghosts import crowd_of, heap_run, start_heap
+from coheir.lineplay import check_state, states_on
+from coheir.whole import is_within
+
+
+def marks_on(table, n, moves):
+    """Return the list of the marks on a play, of the home and of the caches."""
+    states_on(table, n, moves)
+    found = [(1, (0,) * n)]
+    for move in moves:
+        found.append(marks_behind(table, found[-1], move))
+    return found
+
+
+def marks_behind(table, marks, move):
+    """Return the marks behind an allowed move."""
+    home, caches = marks
+    if move[0] == "load":
+        return marks
+    if move[0] == "store":
+        return (0, tuple(1 if at == move[1] else 0 for at in range(len(caches))))
+    _, number, k, j = move
+    other = 0 if j == -1 else caches[j]
+    home2, own2 = copies_behind(table[2][number], home, caches[k], other)
+    return (home2, caches[:k] + (own2,) + caches[k + 1:])
+
+
+def counted(table, state, marks):
+    """Return the heap of a state of a play with these marks."""
+    check_state(table, state)
+    home, _, caches = state
+    if not is_within(marks[0], 0, 1) or not all(is_within(mark, 0, 1) for mark in marks[1]):
+        raise BadNumber("a mark is 0 or 1")
+    if len(marks[1]) != len(caches):
+        raise BadNumber("there is one mark for each cache")
+    numbers = {}
+    for cache, mark in zip(caches, marks[1]):
+        kind = (cache[0], mark)
+        numbers[kind] = numbers.get(kind, 0) + 1
+    return ((home, marks[0]), crowd_of(numbers))
+
+
+def led(table, n, moves):
+    """Return the list of the moves of heaps to which a play is led over."""
+    states = states_on(table, n, moves)
+    marks = marks_on(table, n, moves)
+    found = []
+    for at, move in enumerate(moves):
+        caches = marks[at][1]
+        if move[0] == "row":
+            _, number, k, j = move
+            found.append(("row", number, caches[k], -1 if j == -1 else caches[j]))
+        if move[0] == "store":
+            k = move[1]
+            found.append(("store", states[at][2][k][0], caches[k]))
+    return found
+
+
+def lifted(table, n, moves):
+    """Return the list of the moves of the lifted play."""
+    heaps = heap_run(table, start_heap(table, n), moves)
+    crew = Crew()
+    found = []
+    stores = 0
+    for heap, move in zip(heaps, moves):
+        effect = effect_of(table, heap[0], move)
+        made = crew.make(effect)
+        if move[0] == "store":
+            stores += 1
+            found.append(("store", made[0], stores))
+        else:
+            found.append(("row", move[1], made[0], made[1] if len(made) == 2 else -1))
+    return found
+
+
+class Crew:
+    """Numbered caches with their kinds.
+
+    The cache with the least number makes a move, so those that have made one are the
+    first ones, and all others still have one kind together: any number costs the same.
+    """
+
+    def __init__(self):
+        self.kinds = []
+        self.rest = (0, 0)
+
+    def make(self, effect):
+        """Make a move by the caches with the least numbers, and return these."""
+        _, ahead, behind, images = effect
+        made = []
+        for kind in ahead:
+            made.append(self.first_of(kind, made))
+        self.kinds = [images[kind] for kind in self.kinds]
+        self.rest = images[self.rest]
+        for k, kind in zip(made, behind):
+            self.kinds[k] = kind
+        return made
+
+    def first_of(self, kind, taken):
+        """Return the least number of a cache of a kind that is not taken yet."""
+        for k, own in enumerate(self.kinds):
+            if own == kind and k not in taken:
+                return k
+        self.kinds.append(self.rest)
+        return len(self.kinds) - 1

@@ -1,0 +1,17 @@
+"""Papers of tables, which show whether a table is coherent."""
+
+from coheir.coherence import run_of
+from coheir.layers import Layers
+from coheir.met import met_of
+from coheir.tables import check_table
+
+
+def verdict(table):
+    """Return the paper of a table: why nothing bad comes, or how it comes."""
+    check_table(table)
+    layers = Layers(table)
+    count = layers.fewest()
+    if count is not None:
+        return ("comes", count, run_of(table, layers))
+    stands, kinds = met_of(table)
+    return ("never", stands, kinds, layers.bar())

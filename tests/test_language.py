@@ -1,0 +1,232 @@
+"""Those rules for the files of the package that can be asked of the files themselves."""
+
+import ast
+import builtins
+import pathlib
+import unittest
+
+PACKAGE = pathlib.Path(__file__).resolve().parent.parent / "coheir"
+
+BUILTINS = set(
+    "len range enumerate zip min max sum abs sorted reversed int str bool list tuple dict set isinstance ord repr any"
+    " all divmod type super Exception ValueError TypeError KeyError IndexError LookupError".split()
+)
+METHODS = set(
+    "append clear copy count endswith extend find get index insert isalnum isalpha isdigit items join keys ljust lower"
+    " lstrip partition pop remove replace reverse rjust rstrip setdefault split startswith strip update upper values"
+    " zfill bit_length".split()
+)
+BARRED_NAMES = set(
+    "mro elements open input law register compile dir eval exec exit getattr globals hasattr help id locals os quit"
+    " setattr vars sys iter next map hash chr print frozenset bytes".split()
+)
+BARRED_WORDS = set(
+    "typing enum Enum Flag Generic Protocol ABC namedtuple NamedTuple dataclass overload contextmanager".split()
+)
+STATEMENTS = (
+    ast.Assign, ast.AugAssign, ast.If, ast.While, ast.For, ast.Return, ast.Break, ast.Continue, ast.Pass, ast.Raise,
+    ast.Expr, ast.FunctionDef, ast.ClassDef, ast.ImportFrom,
+)
+
+
+def files():
+    return sorted(PACKAGE.iterdir())
+
+
+def trees():
+    return {path.stem: ast.parse(path.read_text()) for path in files() if path.suffix == ".py"}
+
+
+def bound_in(node):
+    """Return the names that a function binds, its parameters with them."""
+    names = [told.arg for told in ast.walk(node) if isinstance(told, ast.arg)]
+    return names + [told.id for told in ast.walk(node) if isinstance(told, ast.Name) and isinstance(told.ctx, ast.Store)]
+
+
+def functions(tree):
+    return [node for node in ast.walk(tree) if isinstance(node, ast.FunctionDef)]
+
+
+class FileTests(unittest.TestCase):
+    def test_one_folder_of_files(self):
+        """L1, L14"""
+        for path in files():
+            if path.name != "__pycache__":
+                self.assertTrue(path.is_file() and path.suffix == ".py", path)
+                self.assertRegex(path.stem, r"\A(__init__|[a-z][a-z0-9_]*)\Z")
+                self.assertNotIn(path.stem, dir(builtins))
+        self.assertLessEqual(len(trees()), 100)
+
+    def test_sizes_and_characters(self):
+        """L10, L12, L14, L27"""
+        for path in files():
+            if path.suffix == ".py":
+                text = path.read_text(encoding="utf-8")
+                lines = text.split("\n")
+                self.assertLessEqual(len(lines), 399)
+                self.assertTrue(all(len(line) <= 120 for line in lines), path)
+                self.assertTrue(all(" " <= sign <= "~" or sign == "\n" for sign in text), path)
+                self.assertNotIn("_wall", text)
+                self.assertFalse(any(line != line.rstrip() for line in lines), path)
+
+    def test_sizes_of_functions(self):
+        """L10"""
+        for name, tree in trees().items():
+            for node in functions(tree):
+                self.assertLessEqual(node.end_lineno - node.lineno + 1, 40, (name, node.name))
+                self.assertIsNotNone(ast.get_docstring(node) or node.name == "__init__", (name, node.name))
+
+
+class RuleTests(unittest.TestCase):
+    def test_imports(self):
+        """L2, L16: from the file that defines the name, and without a round"""
+        told = trees()
+        needs = {}
+        for name, tree in told.items():
+            needs[name] = []
+            for node in tree.body:
+                if isinstance(node, ast.ImportFrom):
+                    self.assertTrue(node.level == 0 and node.module.startswith("coheir."), name)
+                    needs[name].append(node.module.removeprefix("coheir."))
+                    defined = []
+                    for part in told[needs[name][-1]].body:
+                        if isinstance(part, (ast.FunctionDef, ast.ClassDef)):
+                            defined.append(part.name)
+                        if isinstance(part, ast.Assign):
+                            defined.append(part.targets[0].id)
+                    for alias in node.names:
+                        self.assertIn(alias.name, defined, name)
+                        self.assertIsNone(alias.asname)
+        while needs:
+            free = [name for name, others in needs.items() if not any(other in needs for other in others)]
+            self.assertTrue(free, f"a round of imports: {sorted(needs)}")
+            for name in free:
+                del needs[name]
+
+    def test_module_level(self):
+        """L3, L15"""
+        for name, tree in trees().items():
+            seen = []
+            for at, node in enumerate(tree.body):
+                if at == 0:
+                    self.assertIsNotNone(ast.get_docstring(tree), name)
+                elif isinstance(node, ast.ImportFrom):
+                    seen.extend(alias.name for alias in node.names)
+                elif isinstance(node, ast.Assign):
+                    self.assertEqual(len(node.targets), 1)
+                    ast.literal_eval(node.value)
+                    seen.append(node.targets[0].id)
+                else:
+                    self.assertIsInstance(node, (ast.FunctionDef, ast.ClassDef), name)
+                    seen.append(node.name)
+            self.assertEqual(len(seen), len(set(seen)), name)
+
+    def test_statements(self):
+        """L4, L5, L6, L7, L21"""
+        for name, tree in trees().items():
+            for node in ast.walk(tree):
+                if isinstance(node, ast.stmt):
+                    self.assertIsInstance(node, STATEMENTS, (name, ast.dump(node)[:80]))
+                if isinstance(node, (ast.FunctionDef, ast.ClassDef)):
+                    self.assertEqual(node.decorator_list, [], name)
+                if isinstance(node, ast.FunctionDef):
+                    self.assertIsNone(node.returns, name)
+                self.assertNotIsInstance(node, (ast.Div, ast.Pow, ast.Mod, ast.NamedExpr, ast.Yield, ast.Set), name)
+                if isinstance(node, ast.Constant):
+                    self.assertNotIsInstance(node.value, (float, complex, bytes), name)
+
+    def test_names(self):
+        """L8, L12, L15, L17"""
+        for name, tree in trees().items():
+            fixed = []
+            for node in tree.body:
+                if isinstance(node, ast.ImportFrom):
+                    fixed.extend(alias.name for alias in node.names)
+                if isinstance(node, ast.ClassDef):
+                    fixed.append(node.name)
+            for node in functions(tree):
+                for bound in bound_in(node) + [node.name]:
+                    self.assertNotIn(bound, BARRED_NAMES, name)
+                    self.assertNotIn(bound, dir(builtins), name)
+                self.assertFalse(set(fixed) & set(bound_in(node)), (name, node.name))
+            for node in ast.walk(tree):
+                if isinstance(node, ast.Name) and node.id in dir(builtins):
+                    self.assertIn(node.id, BUILTINS, name)
+                if isinstance(node, ast.Constant) and isinstance(node.value, str):
+                    self.assertNotIn("%", node.value, name)
+
+    def test_words(self):
+        """L17: words that no file has, but in comments and docstrings"""
+        for name, tree in trees().items():
+            for node in ast.walk(tree):
+                for word in [getattr(node, part, None) for part in ("id", "attr", "arg", "name")]:
+                    self.assertNotIn(word, BARRED_WORDS | {"mro", "open", "input", "law", "elements"}, name)
+
+    def test_methods(self):
+        """L25, L26: methods are those of builtin values that are allowed, or own ones"""
+        own = {node.name for tree in trees().values() for node in functions(tree)}
+        for name, tree in trees().items():
+            for node in ast.walk(tree):
+                if isinstance(node, ast.Call) and isinstance(node.func, ast.Attribute):
+                    self.assertIn(node.func.attr, METHODS | own | {"__init__"}, name)
+
+    def test_sets(self):
+        """L24: a set stands in `sorted` or `len` alone here"""
+        for name, tree in trees().items():
+            inside = []
+            for node in ast.walk(tree):
+                if isinstance(node, ast.Call) and isinstance(node.func, ast.Name) and node.func.id in ("sorted", "len"):
+                    inside.extend(node.args)
+            for node in ast.walk(tree):
+                made = isinstance(node, ast.Call) and isinstance(node.func, ast.Name) and node.func.id == "set"
+                if made or isinstance(node, ast.SetComp):
+                    self.assertIn(node, inside, name)
+
+    def test_raises(self):
+        """L19: an error is created where it is raised"""
+        for name, tree in trees().items():
+            for node in ast.walk(tree):
+                if isinstance(node, ast.Raise):
+                    self.assertIsInstance(node.exc, ast.Call, name)
+                    self.assertIsInstance(node.exc.func, ast.Name, name)
+
+
+class InterfaceTests(unittest.TestCase):
+    """Each name of the interface is defined in its file, with the parameters that the document tells."""
+
+    INTERFACE = {
+        "tables": "is_table(table) check_table(table) rows_at(table,home,own) without_rows(table,numbers)"
+                  " with_row(table,row) renamed(table,states,homes)",
+        "samples": "msi() mesi() mosi() forgetful(table,number)",
+        "tabletexts": "text_of_table(table) read_table(text)",
+        "lineplay": "line_begin(n) is_state(table,state) check_state(table,state) line_behind(table,state,move)"
+                    " moves_in(table,state) states_on(table,n,moves) play(table,n,moves) loads_on(table,n,moves)",
+        "ghosts": "is_stand(table,stand) is_kind(table,kind) is_heap(table,heap) start_heap(table,n) is_bad(table,heap)"
+                  " heap_moves(table,heap) heap_run(table,heap,moves)",
+        "ghostlead": "marks_on(table,n,moves) counted(table,state,marks) led(table,n,moves) lifted(table,n,moves)",
+        "backs": "met_stands(table) met_kinds(table) is_below(one,other) least_of(heaps)"
+                 " steps_back_by(table,stand,move,heap) steps_back(table,heap)",
+        "bars": "bad_heaps(table) bar(table) bar_within(table,most) is_bar_closed(table,heaps) comes(table,heap)"
+                " run_from(table,heap)",
+        "coherence": "is_coherent(table) fewest_caches(table) bad_run(table) passes(table) passing_run(table)",
+        "papers": "verdict(table)",
+        "tablecheck": "line_led_to(table,n,moves) are_closed(table,stands,kinds) wall_holds(table,stands,kinds,heaps)"
+                      " is_never(table,paper) is_comes(table,paper) shown(table,paper)",
+        "programs": "is_program(program) check_program(program) accesses(program,line) lines_of(program)"
+                    " with_lines(program,lines) with_cores(program,order) beginning(program,counts)",
+        "progtexts": "text_of_program(program) read_program(text)",
+    }
+
+    def test_interface(self):
+        told = trees()
+        for name, wanted in self.INTERFACE.items():
+            found = []
+            for node in told[name].body:
+                if isinstance(node, ast.FunctionDef):
+                    found.append(f"{node.name}({','.join(arg.arg for arg in node.args.args)})")
+            for function in wanted.split():
+                self.assertIn(function, found, name)
+
+
+if __name__ == "__main__":
+    unittest.main()
