@@ -79,15 +79,15 @@ def lifted(table, n, moves):
 
 
 class Crew:
-    """Numbered caches with their kinds.
+    """The kinds of the numbered caches that have made a move.
 
-    The cache with the least number makes a move, so those that have made one are the
-    first ones, and all others still have one kind together: any number costs the same.
+    Caches with the least numbers make the moves, so these are the first ones, and all
+    others still have one kind together. As the heap has caches for each move, the others
+    have the wanted kind if none of the first ones has it. Any number of caches costs the same.
     """
 
     def __init__(self):
         self.kinds = []
-        self.rest = (0, 0)
 
     def make(self, effect):
         """Make a move by the caches with the least numbers, and return these."""
@@ -96,7 +96,6 @@ class Crew:
         for kind in ahead:
             made.append(self.first_of(kind, made))
         self.kinds = [images[kind] for kind in self.kinds]
-        self.rest = images[self.rest]
         for k, kind in zip(made, behind):
             self.kinds[k] = kind
         return made
@@ -106,5 +105,5 @@ class Crew:
         for k, own in enumerate(self.kinds):
             if own == kind and k not in taken:
                 return k
-        self.kinds.append(self.rest)
+        self.kinds.append(kind)
         return len(self.kinds) - 1

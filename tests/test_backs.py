@@ -248,7 +248,7 @@ class StepTests(unittest.TestCase):
             with self.assertRaises(NotHeap):
                 steps_back_by(msi(), (1, 0), ("x", 1), wrong)
         for move in (
-            ("row", 0, 0, -1), ("row", 7, 0, -1), ("row", -1, 0, -1), ("row", 3, 0, -1), ("row", 3, 2, 0),
+            ("row", 0, 0, -1), ("row", 7, 0, -1), ("row", -1, 0, -1), ("row", 3, 0, -1), ("row", 3, 2, 0), ("row", 6, -1, -1), ("row", 3, -1, 0),
             ("row", 3, 0, 2), ("row", 6, 1, 0), ("row", 6, 1), ("store", 1, 0), ("store", 3, 0), ("store", 2, 2),
             ("store", 2, -1), ("store", -1, 0), ("load", 2), ("x", 2, 1), ("row", "6", 1, -1), ("store", "2", 1), (),
         ):

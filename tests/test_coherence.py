@@ -2,7 +2,7 @@ import unittest
 
 from coheir.coherence import bad_run, fewest_caches, is_coherent, passes, passing_run
 from coheir.errors import NoAnswer, NotTable, TooLarge
-from coheir.lineplay import line_begin, line_behind, loads_on, moves_in, play, states_on
+from coheir.lineplay import line_begin, line_behind, loads_on, moves_in, states_on
 from coheir.samples import forgetful, mesi, mosi, msi
 from coheir.tables import renamed, with_row, without_rows
 from support import ALONE, NO_ROWS, SMALL, TOO_WIDE, chance, nearby_table, random_table

@@ -4,6 +4,7 @@ import ast
 import builtins
 import pathlib
 import unittest
+import warnings
 
 PACKAGE = pathlib.Path(__file__).resolve().parent.parent / "coheir"
 
@@ -181,6 +182,14 @@ class RuleTests(unittest.TestCase):
                 made = isinstance(node, ast.Call) and isinstance(node.func, ast.Name) and node.func.id == "set"
                 if made or isinstance(node, ast.SetComp):
                     self.assertIn(node, inside, name)
+
+    def test_no_warnings(self):
+        """L27"""
+        with warnings.catch_warnings():
+            warnings.simplefilter("error")
+            for path in files():
+                if path.suffix == ".py":
+                    compile(path.read_text(), path.name, "exec")
 
     def test_raises(self):
         """L19: an error is created where it is raised"""

@@ -5,8 +5,8 @@ import unittest
 from coheir.backs import met_kinds, met_stands, steps_back
 from coheir.bars import bar
 from coheir.errors import NotTable
-from coheir.ghosts import heap_moves, is_bad, start_heap
-from coheir.lineplay import line_begin, line_behind, moves_in, play
+from coheir.ghosts import heap_moves, is_bad
+from coheir.lineplay import line_begin, line_behind
 from coheir.papers import verdict
 from coheir.samples import forgetful, mesi, mosi, msi
 from coheir.tablecheck import are_closed, is_comes, is_never, line_led_to, shown, wall_holds
@@ -59,11 +59,13 @@ class TableTests(unittest.TestCase):
             ((0,), 0, ()), ((0,), 7, ()), ((0,), "1", ()), ((0, 1, 2), 1, (ROW,) * 25),
         ]
         for number, at, value in (
-            (0, 0, 2), (0, 0, -1), (0, 1, 3), (0, 2, 0), (0, 2, -2), (0, 3, 2), (0, 4, -1), (0, 5, 0), (0, 6, (0, 1)),
+            (0, 0, 2), (0, 0, -1), (0, 1, 3), (0, 2, 0), (0, 2, -2), (0, 5, -2), (0, 3, 2), (0, 4, -1), (0, 5, 0), (0, 6, (0, 1)),
             (0, 6, (0, 1, 3)), (0, 6, (0, 1, 2, 0)), (0, 7, "other"), (0, 7, "own"), (0, 8, "other"), (0, 8, "home"),
             (1, 2, -1), (1, 5, -1), (1, 2, 3), (1, 5, 3), (1, 7, "own"), (1, 8, "home"), (1, 8, ""), (1, 1, "0"),
         ):
             wrong.append(with_changed_row(msi(), number, at, value))
+        for value in (-2, 3):
+            wrong.append(with_changed_row(with_changed_row(msi(), 0, 2, value), 0, 5, value))
         for table in wrong:
             for function, arguments in (
                 (line_led_to, (-1, [("x", 1)])), (are_closed, ([(9, 9)], [])), (wall_holds, ([(9, 9)], [], [])),
@@ -91,13 +93,13 @@ class PlayTests(unittest.TestCase):
             self.assertIsNone(line_led_to(msi(), n, []))
         for move in (
             ("row", 0, 2, -1), ("row", 0, 0, 1), ("row", 7, 0, -1), ("row", -7, 0, -1), ("row", 3, 0, 1), ("load", 0),
-            ("row", 0, -1, -1), ("row", "0", 0, -1), ("row", 0, "0", -1), ("row", 0, 0), ("x", 0), ("store", 0, 1), (),
+            ("row", 0, -1, -1), ("row", "0", 0, -1), ("x", 0, 0, -1), ("row", -6, 0, -1), ("row", 0, "0", -1), ("row", 0, 0), ("x", 0), ("store", 0, 1), (),
         ):
             self.assertIsNone(line_led_to(msi(), 2, [move]), move)
             self.assertIsNone(line_led_to(msi(), 2, [move] + EXAMPLE), move)
         for move in (
             ("store", 0, 0), ("store", 0, -1), ("store", 0, "1"), ("store", 1, 1), ("store", 2, 1), ("store", -2, 1),
-            ("load", 1), ("load", 2), ("load", -2), ("load", "0"), ("load", 0, 0), ("store", 0), ("row", 3, 1, 1),
+            ("x", 0, 1), ("row", -1, 0, -1), ("row", 6, 0, -2), ("row", 3, -1, 0), ("load", 1), ("load", 2), ("load", -2), ("load", "0"), ("load", 0, 0), ("store", 0), ("row", 3, 1, 1),
             ("row", 3, 1, -1), ("row", 3, 1, 2), ("row", 3, 1, "0"), ("row", 3, 0, 0), ("row", 6, 0, 0),
         ):
             self.assertIsNone(line_led_to(msi(), 2, EXAMPLE[:1] + [move]), move)
@@ -160,6 +162,11 @@ class ClosedTests(unittest.TestCase):
             self.assertIs(are_closed(msi(), stands + [stand], kinds), False)
         for kind in ((3, 0), (0, 2), (-1, 0), ("0", 0), (0, "0"), (0, -1)):
             self.assertIs(are_closed(msi(), stands, kinds + [kind]), False)
+        for wrong in ((0, -1), (0, 2), (-1, 0), (1, 0), (0, 10 ** 30)):
+            self.assertIs(are_closed(NO_ROWS, [(0, 1), wrong], [(0, 0)]), False)
+        for wrong in ((0, -1), (0, 2), (-1, 0), (3, 0), (0, -10 ** 30)):
+            self.assertIs(are_closed(NO_ROWS, [(0, 1)], [(0, 0), wrong]), False)
+        self.assertIs(are_closed(ALONE, [(0, 1)], [(0, 0), (-1, 0)]), False)
         self.assertIs(are_closed(msi(), [], []), False)
         self.assertIs(are_closed(NO_ROWS, [], [(0, 0)]), False)
         self.assertIs(are_closed(NO_ROWS, [(0, 1)], []), False)
@@ -214,6 +221,8 @@ class WallTests(unittest.TestCase):
     def test_no_heaps(self):
         for heap in NO_HEAPS:
             self.assertIs(self.holds(msi(), bar(msi()) + [heap]), False, heap)
+        for crowd in (((0, 0, 0),), ((0, 0, -1),), ((0, 0, 1), (0, 0, 2)), ((0, 1, 1), (0, 0, 1)), ((0, 2, 1),)):
+            self.assertIs(wall_holds(NO_ROWS, [(0, 1)], [(0, 0), (0, 1)], [((0, 1), crowd)]), False, crowd)
 
     def test_by_the_words(self):
         source = chance(67)
@@ -368,10 +377,15 @@ class ComesTests(unittest.TestCase):
         self.right(table, ("comes", 10 ** 30, [("row", 0, 0, -1)]))
         self.right(table, ("comes", 7, [("row", 0, 6, -1)]))
         self.wrong(table, ("comes", 1, [("row", 0, 0, -1)]))
+        table = ((0, 0, 2), 1, ((0, 0, -1, 0, 1, -1, (2, 1, 2), "keep", "keep"),))
+        self.right(table, ("comes", 7, [("row", 0, 0, -1), ("store", 5, 1)]))
+        self.wrong(table, ("comes", 2, [("row", 0, 0, -1), ("store", 1, 1)]))
+        table = ((0, 0, 1), 1, ((0, 0, -1, 0, 1, -1, (2, 1, 2), "keep", "keep"),))
         self.wrong(table, ("comes", 7, [("row", 0, 7, -1)]))
 
     def test_old_copies_without_a_right(self):
         self.wrong(msi(), ("comes", 3, EXAMPLE))
+        self.wrong(msi(), ("comes", 2, [("row", 2, 0, -1), ("store", 0, 1), ("store", 0, 2)]))
         self.wrong(NO_ROWS, ("comes", 5, []))
         self.wrong(NO_ROWS, ("comes", 0, []))
         self.wrong(msi(), ("comes", 1, [("row", 2, 0, -1), ("store", 0, 1), ("row", 6, 0, -1)]))

@@ -63,6 +63,10 @@ class FormTests(unittest.TestCase):
             for value in (0, 2, -2, 3):
                 self.refused(with_changed_row(msi(), 0, at, value))
 
+    def test_partners_both_wrong(self):
+        for value in (-2, 3):
+            self.refused(with_changed_row(with_changed_row(msi(), 0, 2, value), 0, 5, value))
+
     def test_others(self):
         for others in ((0, 0, 0), (2, 1, 0), (2, 2, 2)):
             self.assertTrue(is_table(with_changed_row(msi(), 0, 6, others)))
@@ -91,6 +95,7 @@ class RowsAtTests(unittest.TestCase):
         self.assertEqual(rows_at(msi(), 0, 1), [4, 5])
         self.assertEqual(rows_at(msi(), 1, 0), [1, 3])
         self.assertEqual(rows_at(msi(), 1, 1), [])
+        self.assertEqual(rows_at(msi(), 1, 2), [6])
         self.assertEqual(rows_at(NO_ROWS, 0, 0), [])
 
     def test_errors(self):

@@ -62,6 +62,7 @@ class TextTests(unittest.TestCase):
         self.malformed("rights", 1)
         self.malformed("rights homes 1", 1)
         self.malformed("rights 0 3 homes 1", 2)
+        self.malformed("rights 3 homes 1", 1)
         self.malformed("rights 0 0 0 0 0 0 0 0 0 homes 1", 9)
         self.malformed("rights 0 0 0 0 0 0 0 0", 9)
         self.malformed("rights 0 00 homes 1", 2)
