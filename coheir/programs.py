@@ -34,6 +34,16 @@ def is_instruction(instruction):
     return is_line(instruction[1]) and is_within(instruction[2], 1, MOST_VALUE)
 
 
+def does_read(instruction):
+    """Tell whether an instruction reads a line."""
+    return instruction[0] in ("load", "swap")
+
+
+def does_write(instruction):
+    """Tell whether an instruction writes a line."""
+    return instruction[0] in ("store", "swap")
+
+
 def is_line(line):
     """Tell whether a value is the number of a line."""
     return is_within(line, 0, MOST_LINE)

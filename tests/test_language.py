@@ -26,8 +26,9 @@ BARRED_WORDS = set(
 )
 STATEMENTS = (
     ast.Assign, ast.AugAssign, ast.If, ast.While, ast.For, ast.Return, ast.Break, ast.Continue, ast.Pass, ast.Raise,
-    ast.Expr, ast.FunctionDef, ast.ClassDef, ast.ImportFrom,
+    ast.Expr, ast.FunctionDef, ast.ClassDef, ast.ImportFrom, ast.Try,
 )
+LIBRARY = {"itertools": ["combinations"]}
 
 
 def files():
@@ -86,7 +87,9 @@ class RuleTests(unittest.TestCase):
         for name, tree in told.items():
             needs[name] = []
             for node in tree.body:
-                if isinstance(node, ast.ImportFrom):
+                if isinstance(node, ast.ImportFrom) and node.module in LIBRARY:
+                    self.assertTrue(all(alias.name in LIBRARY[node.module] for alias in node.names), name)
+                elif isinstance(node, ast.ImportFrom):
                     self.assertTrue(node.level == 0 and node.module.startswith("coheir."), name)
                     needs[name].append(node.module.removeprefix("coheir."))
                     defined = []
@@ -224,6 +227,25 @@ class InterfaceTests(unittest.TestCase):
         "programs": "is_program(program) check_program(program) accesses(program,line) lines_of(program)"
                     " with_lines(program,lines) with_cores(program,order) beginning(program,counts)",
         "progtexts": "text_of_program(program) read_program(text)",
+        "plain": "begin_plain(program) is_plain_state(program,state) is_observation(program,observation)"
+                 " check_observation(program,observation) plain_moves(program,state) plain_moved(program,state,move)"
+                 " plain_play(program,moves) plain_states(program) plain_observations(program)"
+                 " plain_run(program,observation)",
+        "buffered": "begin_buffered(program) is_buffered_state(program,state) buffered_moves(program,state)"
+                    " buffered_moved(program,state,move) buffered_play(program,moves) buffered_states(program)"
+                    " buffered_observations(program) buffered_run(program,observation)",
+        "loose": "begin_loose(program) is_loose_state(program,state) loose_moves(program,state)"
+                 " loose_moved(program,state,move) loose_play(program,moves) loose_states(program)"
+                 " loose_observations(program) loose_run(program,observation)",
+        "relations": "events_of(program,observation) kept_pairs(program,observation,order)"
+                     " does_fit(program,observation,paper) ahead_by_lines(program,observation,paper)"
+                     " ahead_whole(program,observation,paper,order) round_in(pairs)"
+                     " explains(program,observation,paper,order)",
+        "explaining": "paper_of(program,moves,order) explanation(program,observation,order)"
+                      " run_by(program,observation,paper,order)",
+        "races": "do_meet(one,other) has_race(program) first_race(program)",
+        "fences": "places_of(program) with_fences(program,places) plain_results(program) buffered_results(program)"
+                  " loose_results(program) is_steady(program,*,order) least_fences(program,places,*,order)",
     }
 
     def test_interface(self):
@@ -232,7 +254,10 @@ class InterfaceTests(unittest.TestCase):
             found = []
             for node in told[name].body:
                 if isinstance(node, ast.FunctionDef):
-                    found.append(f"{node.name}({','.join(arg.arg for arg in node.args.args)})")
+                    names = [arg.arg for arg in node.args.args]
+                    if node.args.kwonlyargs:
+                        names += ["*"] + [arg.arg for arg in node.args.kwonlyargs]
+                    found.append(f"{node.name}({','.join(names)})")
             for function in wanted.split():
                 self.assertIn(function, found, name)
 
