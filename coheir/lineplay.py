@@ -101,13 +101,18 @@ def can_make(row, state, k, j):
 def moves_in(table, state):
     """Return the list of the moves of rows and loads that are allowed."""
     check_state(table, state)
+    return rows_in(table, state) + [("load", k) for k in range(len(state[2])) if has_right(table, state, k, 1)]
+
+
+def rows_in(table, state):
+    """Return the list of the moves of rows that are allowed."""
     count = len(state[2])
     found = []
     for number, row in enumerate(table[2]):
         partners = [-1] if row[2] == -1 else list(range(count))
         for k in range(count):
             found.extend([("row", number, k, j) for j in partners if can_make(row, state, k, j)])
-    return found + [("load", k) for k in range(count) if has_right(table, state, k, 1)]
+    return found
 
 
 def states_on(table, n, moves):

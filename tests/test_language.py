@@ -246,6 +246,20 @@ class InterfaceTests(unittest.TestCase):
         "races": "do_meet(one,other) has_race(program) first_race(program)",
         "fences": "places_of(program) with_fences(program,places) plain_results(program) buffered_results(program)"
                   " loose_results(program) is_steady(program,*,order) least_fences(program,places,*,order)",
+        "machine": "begin_machine(table,program) machine_moves(table,program,state)"
+                   " machine_states_on(table,program,moves) machine_play(table,program,moves)"
+                   " sight(table,program,moves) shadow(moves)",
+        "giving": "gives(table,n) realized(table,program,moves)",
+        "making": "made_program(table) sight_proved(program,observation,proof)",
+        "ordercheck": "order_led_to(program,moves,order) machine_led_to(table,program,moves)"
+                      " paper_explains(program,observation,paper,order)"
+                      " both_show(program,observation,moves,paper,order) proof_holds(program,observation,proof)"
+                      " case_holds(table,program,moves,proof)",
+        "rowsets": "with_rows(table,rows) least_passing(table,rows) greatest_safe(table,rows) mends(table,rows)",
+        "lines": "words_of(line) is_name(word) number_in(word)",
+    }
+    CLASSES = {
+        "desk": {"Desk": "__init__(self) answer(self,line) answers(self,lines) names(self) thing(self,name)"},
     }
 
     def test_interface(self):
@@ -260,6 +274,28 @@ class InterfaceTests(unittest.TestCase):
                     found.append(f"{node.name}({','.join(names)})")
             for function in wanted.split():
                 self.assertIn(function, found, name)
+
+    def test_classes(self):
+        """Each method stands in its class itself"""
+        told = trees()
+        for name, classes in self.CLASSES.items():
+            for title, wanted in classes.items():
+                bodies = [node.body for node in told[name].body if isinstance(node, ast.ClassDef) and node.name == title]
+                found = [f"{node.name}({','.join(arg.arg for arg in node.args.args)})" for node in bodies[0]
+                         if isinstance(node, ast.FunctionDef)]
+                for function in wanted.split():
+                    self.assertIn(function, found, name)
+
+    def test_checkers_stand_alone(self):
+        """[130], [300]: what the modules of the checkers import"""
+        told = trees()
+        tables = {"errors", "tablecheck", "checkforms", "checkmoves", "checkwalls"}
+        others = {"ordercheck", "checkprograms", "checkruns", "checkpapers", "checkproofs"}
+        for name in tables | others:
+            for node in told[name].body:
+                if isinstance(node, ast.ImportFrom):
+                    allowed = tables | others if name in others else tables
+                    self.assertIn(node.module.removeprefix("coheir."), allowed, name)
 
 
 if __name__ == "__main__":
