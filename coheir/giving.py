@@ -5,7 +5,6 @@ from coheir.errors import BadMove, BadNumber, TooLarge
 from coheir.lineplay import has_right, line_begin, line_behind, rows_in
 from coheir.machine import begin_machine, machine_behind, right_needed
 from coheir.programs import check_program
-from coheir.search import is_move
 from coheir.tables import check_table
 from coheir.whole import is_within
 
@@ -76,8 +75,6 @@ def realized(table, program, moves):
 def rows_ahead(table, program, state, move):
     """Return rows of the machine that lead to the right that a move needs, or None if it cannot be made."""
     lines, cores = state
-    if not is_move(program, move, "make", 2) and not is_move(program, move, "drain", 2):
-        return None
     # Which moves are allowed does not depend on what memory has.
     if buffered_behind(program, ((0, 0, 0, 0), cores), move) is None:
         return None

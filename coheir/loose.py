@@ -62,7 +62,7 @@ def loose_followers(program, state):
         behind = behind_make(program, state, c)
         if behind is not None:
             found.append((("make", c), behind))
-        for line in sorted(set([line for line, _ in waiting])):
+        for line in sorted(set([where for where, _ in waiting])):
             found.append((("drain", c, line), behind_drain(state, c, oldest_of(waiting, line))))
     return found
 

@@ -12,13 +12,29 @@ FLAG_PROGRAM = (
 FLAG_SEEN = ((1, (0,)), (3, (5,)), (3, (0, 3, 5)))
 FLAG = ("flag", ((0, 0), (1, 1)), 2)
 
-BEHIND_PROGRAM = ((("swap", 0, 5), ("store", 1, 1)), (("load", 2), ("swap", 0, 7), ("load", 0), ("load", 1)))
-BEHIND_SEEN = ((1, (0,)), (3, (-4, 5, 5)))
-BEHIND = ("behind", ((0, 0), (1, 1)), 1)
+BEHIND_PROGRAM = ((("swap", 0, 5), ("store", 1, 1)), (("load", 2), ("fence",), ("swap", 0, 7), ("load", 0), ("load", 1)))
+BEHIND_SEEN = ((1, (0,)), (4, (-4, 5, 5)))
+BEHIND = ("behind", ((0, 0), (1, 2)), 1)
 
 NOTHING_PROGRAM = ((("load", 2), ("load", 0)), (("store", 0, 4), ("swap", 0, 6), ("store", 2, 8)))
 NOTHING_SEEN = ((2, (0, 8)), (0, ()))
 NOTHING = ("nothing", (), 0)
+
+# What is nearly a chain or a flag: a flag for the own core, a swap for a flag, a store in a chain.
+OWN_FLAG = ((("swap", 0, 5), ("store", 1, 3), ("load", 1), ("load", 0)), (("load", 1), ("load", 0)))
+OWN_FLAG_SEEN = ((4, (0, 3, 7)), (2, (3, 7)))
+SWAP_FLAG = ((("swap", 0, 5), ("swap", 1, 3)), (("load", 1), ("load", 0)))
+SWAP_FLAG_SEEN = ((2, (0, 0)), (2, (3, 7)))
+STORE_CHAIN = ((("swap", 0, 5), ("store", 0, 7), ("load", 0)),)
+STORE_CHAIN_SEEN = ((3, (0, 5)),)
+NEARLY = (
+    (OWN_FLAG, OWN_FLAG_SEEN, ("flag", ((0, 0),), 0), False), (OWN_FLAG, OWN_FLAG_SEEN, ("flag", ((0, 0),), 1), True),
+    (OWN_FLAG, OWN_FLAG_SEEN, ("behind", ((0, 0),), 0), True), (OWN_FLAG, OWN_FLAG_SEEN, ("behind", ((0, 0),), 1), False),
+    (OWN_FLAG[:1] + ((("load", 0), ("load", 1)),), ((2, (0,)), (1, (7,))), ("flag", ((0, 0),), 1), False),
+    (SWAP_FLAG, SWAP_FLAG_SEEN, ("flag", ((0, 0),), 1), False),
+    (STORE_CHAIN, STORE_CHAIN_SEEN, ("behind", ((0, 0), (0, 1)), 0), False),
+    (STORE_CHAIN, STORE_CHAIN_SEEN, ("behind", ((0, 0),), 0), False),
+)
 
 CASES = ((FLAG_PROGRAM, FLAG_SEEN, FLAG), (BEHIND_PROGRAM, BEHIND_SEEN, BEHIND), (NOTHING_PROGRAM, NOTHING_SEEN, NOTHING))
 
@@ -75,7 +91,7 @@ def broken_ones():
         for word, chain, reader in itertools.product(
                 ("nothing", "behind", "flag", "Flag", ""),
                 {proof[1], (), proof[1][::-1], proof[1][1:], proof[1][:-1], proof[1] * 2, proof[1] + ((0, 1),),
-                 ((0, 0),), ((1, 1),), ((9, 0),), ((0, 9),), ((-1, 0),), ((0, -1),), ((1, 1), (0, 9))},
+                 ((0, 0),), ((1, 1),), ((1, 2),), ((9, 0),), ((0, 9),), ((-1, 0),), ((0, -1),), ((1, 1), (0, 9))},
                 (-1, 0, 1, 2, 3, 10 ** 20)):
             found.append((program, seen, (word, chain, reader)))
         for c, (made, told) in enumerate(seen):

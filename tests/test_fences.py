@@ -78,7 +78,7 @@ class PlaceTests(unittest.TestCase):
         with self.assertRaises(NotProgram):
             places_of(((("load", -1),),))
         for wrong in ([(0, 1)], [(1, 1)], [(2, 0)], [(-1, 0)], [(0, -1)], [(0, 0), (1, 0), (0, 0)], [(0, 0), (10 ** 20, 0)],
-                      [(False, 0)]):
+                      [(False, 0)], [(0, 0, 0)], [(0,)]):
             with self.assertRaises(BadNumber):
                 with_fences(orders.STORES, wrong)
             with self.assertRaises(BadNumber):

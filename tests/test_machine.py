@@ -110,7 +110,8 @@ class MoveTests(unittest.TestCase):
         wrong = [("make", 2), ("make", -1), ("make", 0, 0), ("drain", 0, 0), ("drain", 1), ("drain", 2), ("stay", 0), ("make",),
                  ("row", 2, 1, -1), ("row", 4, 2, 0, -1), ("row", -1, 2, 0, -1), ("row", 0, 7, 0, -1), ("row", 0, -1, 0, -1),
                  ("row", 1, 2, 2, -1), ("row", 1, 2, -1, -1), ("row", 1, 2, 0, 1), ("row", 0, 3, 1, 1), ("row", 0, 3, 1, -1),
-                 ("row", 0, 3, 0, 1), ("row", 1, 3, 0, 1), ("load", 0), ("store", 0, 1), ("row", 1, 2, 0, -1, 0)]
+                 ("row", 0, 3, 0, 1), ("row", 1, 3, 0, 1), ("load", 0), ("store", 0, 1), ("row", 1, 2, 0, -1, 0),
+                 ("rows", 1, 2, 0, -1), ("make", 1, 2, 0, -1)]
         for move in wrong:
             for at in range(len(right) + 1):
                 moves = right[:at] + [move] + right[at:]

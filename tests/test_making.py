@@ -22,6 +22,9 @@ class ProofTests(unittest.TestCase):
         for program, seen, proof in told.CASES:
             self.assertIs(sight_proved(program, seen, proof), True)
             self.assertTrue(told.is_right(program, seen, proof))
+        for program, seen, proof, wanted in told.NEARLY:
+            self.assertIs(sight_proved(program, seen, proof), wanted)
+            self.assertIs(told.is_right(program, seen, proof), wanted)
 
     def test_one_thing_changed(self):
         """Each condition broken alone"""
@@ -44,13 +47,13 @@ class ProofTests(unittest.TestCase):
         """What the points tell, thing by thing"""
         program, seen, proof = told.BEHIND_PROGRAM, told.BEHIND_SEEN, told.BEHIND
         for wrong in (
-                (program, ((1, (0,)), (3, (-4, 5, 7))), proof),  # the value of the last swap itself
-                (program, ((1, (0,)), (2, (-4, 5))), proof),  # the swap is the last one that is made
-                (program, ((1, (0,)), (4, (-4, 5, 5, 1))), proof),  # the last load is of another line
-                (program, ((1, (3,)), (3, (-4, 5, 5))), proof),  # the first swap was not told 0
-                (program, ((1, (0,)), (3, (-4, 0, 5))), proof),  # the second one was not told the value of the first
-                (program, ((0, ()), (3, (-4, 0, 5))), proof),  # a swap of the chain is not made
-                (program, ((0, ()), (3, (-4, 0, 5))), ("behind", ((1, 1),), 1)),  # a swap is not in the chain
+                (program, ((1, (0,)), (4, (-4, 5, 7))), proof),  # the value of the last swap itself
+                (program, ((1, (0,)), (3, (-4, 5))), proof),  # the swap is the last one that is made
+                (program, ((1, (0,)), (5, (-4, 5, 5, 1))), proof),  # the last load is of another line
+                (program, ((1, (3,)), (4, (-4, 5, 5))), proof),  # the first swap was not told 0
+                (program, ((1, (0,)), (4, (-4, 0, 5))), proof),  # the second one was not told the value of the first
+                (program, ((0, ()), (4, (-4, 0, 5))), proof),  # a swap of the chain is not made
+                (program, ((0, ()), (4, (-4, 0, 5))), ("behind", ((1, 2),), 1)),  # a swap is not in the chain
                 (program + ((("store", 0, 9),),), seen + ((0, ()),), proof),  # a store on the line, though not made
                 (program, seen, ("behind", proof[1], 0)), (program, seen, ("flag", proof[1], 1)),
                 (program, seen, ("behind", (), 1)), (program, seen, ("nothing", proof[1], 1))):
@@ -76,7 +79,9 @@ class ProofTests(unittest.TestCase):
             for wrong in ((), proof[:2], proof + (0,), 0, (proof[0], list(proof[1]), proof[2]), (proof[0], 0, proof[2]),
                           (proof[0], proof[1], str(proof[2])), (proof[0], proof[1], None), proof[1],
                           (proof[0], proof[1] + (0,), proof[2]), (proof[0], proof[1] + ((0,),), proof[2]),
-                          (proof[0], proof[1] + ((0, 0, 0),), proof[2]), (proof[0], (("0", 0),), proof[2])):
+                          (proof[0], proof[1] + ((0, 0, 0),), proof[2]), (proof[0], (("0", 0),), proof[2]),
+                          ("flag", ((0, 0), (1, True)), 2), ("flag", ((False, 0), (1, 1)), 2),
+                          ("flag", ((0, 0, 0), (1, 1)), 2)):
                 self.assertIs(sight_proved(program, seen, wrong), False)
         self.assertIs(sight_proved(told.BEHIND_PROGRAM, told.BEHIND_SEEN, changed(told.BEHIND, 2, True)), False)
 
@@ -96,7 +101,7 @@ class ProofTests(unittest.TestCase):
         """NotProgram, NotObservation"""
         with self.assertRaises(NotProgram):
             sight_proved((), (), ())
-        for wrong in ((), told.BEHIND_SEEN[:1], ((1, (0,)), (3, (5, 5)))):
+        for wrong in ((), told.BEHIND_SEEN[:1], ((1, (0,)), (4, (5, 5)))):
             with self.assertRaises(NotObservation):
                 sight_proved(told.BEHIND_PROGRAM, wrong, told.BEHIND)
 

@@ -21,7 +21,7 @@ TWO = ("plain", "buffered")
 NO_ORDERS = ("", "loose", "Plain", "buffered ")
 NO_PROGRAMS = (
     (), ((),) * 13, ((("fence",),) * 25,), (((),),), ((("load", 4),),), ((("load", -1),),), ((("load", True),),),
-    ((("store", 0, 0),),), ((("store", 0, 100),),), ((("swap", 4, 1),),), ((("store", 0),),), ((("load", 0, 1),),),
+    ((("store", 0, 0),),), ((("store", 0, 100),),), ((("swap", 4, 1),),), ((("swap", -1, 1),),), ((("store", 0),),), ((("load", 0, 1),),),
     ((("fence", 0),),), ((("jump",),),), ((("swap", 0, True),),), 0, (0,), ((("load", "0"),),),
 )
 NO_TABLES = ((), ((1,), 1, ()), ((0,), 7, ()), ((0,), 1, ((0,) * 9,)))
@@ -53,7 +53,7 @@ class RunTests(unittest.TestCase):
         for order in TWO:
             self.assertEqual(order_led_to(program, [], order), ((0, ()), (0, ())))
             for move in (("make", 2), ("make", -1), ("make", True), ("make",), ("make", 0, 0), ("drain", 1), ("drain", -1),
-                         ("drain", 0, 0), ("stay", 0), (), ("row", 0, 0, 0, -1), ("make", "0")):
+                         ("drain", 0, 0), ("stay", 0), ("stay", 1), (), ("row", 0, 0, 0, -1), ("make", "0")):
                 for at in range(3):
                     moves = [("make", 0), ("make", 0)]
                     moves.insert(at, move)
@@ -61,6 +61,37 @@ class RunTests(unittest.TestCase):
         self.assertIsNone(order_led_to(program, [("make", 0), ("drain", 0)], "plain"))
         self.assertEqual(order_led_to(program, [("make", 0), ("drain", 0)], "buffered"), ((1, ()), (0, ())))
         self.assertIsNone(order_led_to(program, [("make", 0), ("drain", 0), ("drain", 0)], "buffered"))
+
+    def test_all_lines(self):
+        """The lines and values that there are, and their beginning"""
+        core = tuple(("load", line) for line in range(4)) + (("store", 3, 99), ("swap", 3, 1), ("store", 0, 1))
+        moves = [("make", 0)] * 5
+        self.assertEqual(order_led_to((core,), moves + [("make", 0)], "plain"), ((6, (0, 0, 0, 0, 99)),))
+        self.assertIsNone(order_led_to((core,), moves + [("make", 0)], "buffered"))
+        self.assertEqual(order_led_to((core,), moves + [("drain", 0), ("make", 0)], "buffered"), ((6, (0, 0, 0, 0, 99)),))
+
+    def test_waiting_stores(self):
+        """A load is told the newest one, the oldest one leaves first, swaps and fences wait"""
+        stores = (("store", 0, 1), ("store", 0, 2), ("store", 1, 3))
+        makes = [("make", 0)] * 3
+        for last, told in ((("swap", 2, 1), (0,)), (("fence",), ())):
+            program = (stores + (last,), (("load", 0), ("load", 1), ("load", 0), ("load", 1)))
+            reads = [("drain", 0), ("make", 1), ("make", 1), ("drain", 0), ("make", 1), ("drain", 0), ("make", 1)]
+            self.assertIsNone(order_led_to(program, makes + [("make", 0)], "buffered"))
+            self.assertIsNone(order_led_to(program, makes + reads[:5] + [("make", 0)], "buffered"))
+            self.assertEqual(order_led_to(program, makes + reads + [("make", 0)], "buffered"), ((4, told), (4, (1, 0, 2, 3))))
+            table = ((0, 2), 1, ((0, 0, -1, 0, 1, -1, (0, 1), "home", "keep"),))
+            rows = [("row", line, 0, 0, -1) for line in range(3)]
+            self.assertIsNone(machine_led_to(table, program, rows + makes + [("make", 0)]))
+            self.assertIsNone(machine_led_to(table, program, rows + makes + [("drain", 0)] * 2 + [("make", 0)]))
+            self.assertEqual(machine_led_to(table, program, rows + makes + [("drain", 0)] * 3 + [("make", 0)]),
+                             ((4, told), (0, ())))
+            self.assertIsNone(machine_led_to(table, program, rows[1:] + makes + [("drain", 0)]))
+            self.assertEqual(machine_led_to(table, program, rows[:1] + makes + [("drain", 0)] * 2), ((3, ()), (0, ())))
+        program = (stores[:2] + (("load", 0),),)
+        for moves, value in ((makes, 2), (makes[:2] + [("drain", 0), ("make", 0)], 2)):
+            self.assertEqual(order_led_to(program, moves, "buffered"), ((3, (value,)),))
+        self.assertEqual(machine_led_to(msi(), program, makes), ((3, (2,)),))
 
     def test_machines(self):
         source = chance(2)
@@ -82,6 +113,7 @@ class RunTests(unittest.TestCase):
         self.assertEqual(machine_led_to(msi(), orders.STORES, right), ((1, ()), (1, ())))
         self.assertEqual(machine_led_to(msi(), orders.STORES, []), ((0, ()), (0, ())))
         for move in (("make", 2), ("make", -1), ("make", 0, 0), ("drain", 0, 0), ("drain", 1), ("stay", 0), ("make",), (),
+                     ("rows", 1, 2, 0, -1), ("stay", 1), ("make", 1, 2, 0, -1),
                      ("row", 2, 1, -1), ("row", 4, 2, 0, -1), ("row", -1, 2, 0, -1), ("row", 0, 7, 0, -1), ("row", 0, -1, 0, -1),
                      ("row", 1, 2, 2, -1), ("row", 1, 2, -1, -1), ("row", 1, 2, 0, 1), ("row", 0, 3, 1, 1), ("row", True, 2, 0, -1),
                      ("load", 0), ("store", 0, 1), ("row", 1, 2, 0, -1, 0), ("row", "1", 2, 0, -1), ("row", 0, 3, 1, -1)):
@@ -120,6 +152,47 @@ class PaperTests(unittest.TestCase):
                     self.assertIs(paper_explains(program, seen, paper, order),
                                   papers_of_orders.explains(program, seen, paper, order))
 
+    def test_all_observations(self):
+        """All observations and all papers that fit, of programs with two cores"""
+        source = chance(8)
+        for _ in range(300):
+            program = orders.random_program(source, most_cores=2, values=1)
+            observations = papers_of_orders.all_observations(program, (0, 1))
+            for seen in source.sample(observations, min(20, len(observations))):
+                for paper in papers_of_orders.all_papers(program, seen):
+                    if papers_of_orders.fits(program, seen, paper):
+                        for order in TWO:
+                            self.assertIs(paper_explains(program, seen, paper, order),
+                                          papers_of_orders.explains(program, seen, paper, order))
+
+    def test_what_stands_between(self):
+        """Two cores that each make two instructions, with each word between them; values of the own buffer among them"""
+        source = chance(9)
+        words = (None, ("load", 0), ("load", 1), ("load", 2), ("store", 2, 1), ("store", 0, 1), ("swap", 2, 1), ("fence",))
+        found = []
+        for base in (orders.STORES, orders.MESSAGE):
+            for between in itertools.product(words, repeat=2):
+                program = tuple(tuple(word for word in (core[0], told, core[1]) if word)
+                                for core, told in zip(base, between))
+                whole = [seen for seen in papers_of_orders.all_observations(program, (0, 1))
+                         if all(made == len(core) for (made, _), core in zip(seen, program))]
+                for seen in source.sample(whole, min(16, len(whole))):
+                    for paper in papers_of_orders.all_papers(program, seen):
+                        if papers_of_orders.fits(program, seen, paper):
+                            for order in TWO:
+                                found.append(paper_explains(program, seen, paper, order))
+                                self.assertIs(found[-1], papers_of_orders.explains(program, seen, paper, order))
+        self.assertGreater(min(found.count(True), found.count(False)), 500)
+
+    def test_values_of_the_own_buffer(self):
+        """[207]: both cores read their own store early, and the other one's late"""
+        program = ((("store", 0, 1), ("load", 0), ("load", 1)), (("store", 1, 1), ("load", 1), ("load", 0)))
+        seen = ((3, (1, 0)), (3, (1, 0)))
+        paper = ((((0, 1), (0, 0)), ((0, 2), (-1, -1)), ((1, 1), (1, 0)), ((1, 2), (-1, -1))),
+                 (((0, 0),), ((1, 0),), (), ()))
+        self.assertIs(paper_explains(program, seen, paper, "buffered"), True)
+        self.assertIs(paper_explains(program, seen, paper, "plain"), False)
+
     def test_example(self):
         """[208]"""
         self.assertIs(paper_explains(orders.STORES, orders.BOTH_ZERO, PAPER, "plain"), False)
@@ -140,10 +213,20 @@ class PaperTests(unittest.TestCase):
                  (sources, (((False, 0),),) + lines[1:]), (5, lines), (sources, 5), ((((0, 1), (-1, 0)),) + sources[1:], lines),
                  ((((0, 1), (-1, -1, -1)),) + sources[1:], lines), ((((0, 1),),) + sources[1:], lines), 0,
                  ((((0, 1), (1, 0)),) + sources[1:], lines), ((((0, 1), (0, 0)),) + sources[1:], lines),
+                 ((((False, 1), (-1, -1)),) + sources[1:], lines), ((((0, 1, 0), (-1, -1)),) + sources[1:], lines),
+                 ((((0, 1), (-1, -1), 0),) + sources[1:], lines), ((((0, True), (-1, -1)),) + sources[1:], lines),
                  ((((0, 1), (7, 7)),) + sources[1:], lines), ((((0, 1), (0, 1)),) + sources[1:], lines)]
         for paper in wrong:
             for order in TWO:
                 self.assertIs(paper_explains(orders.STORES, orders.BOTH_ZERO, paper, order), False, paper)
+
+    def test_values_that_are_no_integers(self):
+        """True and False stand for nothing"""
+        program = ((("store", 0, 1),), (("load", 0),))
+        lines = (((0, 0),), (), (), ())
+        self.assertIs(paper_explains(program, ((1, ()), (1, (1,))), ((((1, 0), (0, 0)),), lines), "plain"), True)
+        for source in ((False, 0), (0, False), (0, 0, 0), (0,), 0):
+            self.assertIs(paper_explains(program, ((1, ()), (1, (1,))), ((((1, 0), source),), lines), "plain"), False)
 
     def test_sources_and_swaps(self):
         """Another value, another line, an event that is its own source, a swap that does not stand behind its source"""
@@ -207,9 +290,14 @@ class ProofTests(unittest.TestCase):
             self.assertIs(proof_holds(program, seen, proof), True)
             for wrong in ((), proof[:2], proof + (0,), 0, (proof[0], list(proof[1]), proof[2]), (proof[0], 0, proof[2]),
                           (proof[0], proof[1], str(proof[2])), (proof[0], proof[1] + (0,), proof[2]),
-                          (proof[0], proof[1] + ((0,),), proof[2]), (proof[0], proof[1] + ((0, 0, 0),), proof[2])):
+                          (proof[0], proof[1] + ((0,),), proof[2]), (proof[0], proof[1] + ((0, 0, 0),), proof[2]),
+                          ("flag", ((0, 0), (1, True)), 2), ("flag", ((False, 0), (1, 1)), 2),
+                          ("flag", ((0, 0, 0), (1, 1)), 2)):
                 self.assertIs(proof_holds(program, seen, wrong), False)
-        self.assertIs(proof_holds(proofs_told.BEHIND_PROGRAM, proofs_told.BEHIND_SEEN, ("behind", ((0, 0), (1, 1)), True)), False)
+        self.assertIs(proof_holds(
+            proofs_told.BEHIND_PROGRAM, proofs_told.BEHIND_SEEN, changed(proofs_told.BEHIND, 2, True)), False)
+        for program, seen, proof, wanted in proofs_told.NEARLY:
+            self.assertIs(proof_holds(program, seen, proof), wanted)
 
     def test_no_proof_and_paper(self):
         """[304]"""
@@ -293,7 +381,7 @@ class ErrorTests(unittest.TestCase):
 
     def test_no_observation(self):
         program = ((("load", 0), ("store", 1, 5), ("swap", 1, 3)), (("fence",),))
-        wrong = [(), ((0, ()),), ((0, ()),) * 3, ((0, ()), ()), ((4, (0, 0)), (0, ())), ((-1, ()), (0, ())),
+        wrong = [(), ((0, ()),), ((0, ()),) * 3, ((0, ()), ()), ((4, (0, 0)), (0, ())), ((-1, ()), (0, ())), ((0, ()), (-1, ())),
                  ((1, ()), (0, ())), ((1, (0, 0)), (0, ())), ((3, (0,)), (0, ())), ((0, (0,)), (0, ())), 0,
                  ((0, ()), (2, ())), ((0, ()), (1, (1,))), ((0, (), ()), (0, (), ())), ((True, (0,)), (0, ())),
                  ((1, (False,)), (0, ())), ((1, 0), (0, ())), ((1, ("0",)), (0, ()))]

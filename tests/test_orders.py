@@ -135,6 +135,9 @@ class EachOrder(unittest.TestCase):
             loose.loose_play(program, [("make", 0), ("drain", 0)])
         self.assertEqual(caught.exception.at, 1)
         self.assertEqual(loose.loose_play(program, [("make", 0), ("drain", 0, 2)]), ((0, 0, 1, 0), ((1, (), ()),)))
+        for wrong in (("drain", 0, True), ("drain", False, 1), ("make", False)):
+            with self.assertRaises(BadMove):
+                loose.loose_play(((("store", 1, 1), ("load", 0)),), [("make", 0), wrong])
 
     def test_runs(self):
         """Runs to all observations that come, whole or not, and to no others"""
@@ -238,7 +241,7 @@ class ObservationTests(unittest.TestCase):
             self.assertIsNone(plain.check_observation(self.PROGRAM, observation))
 
     def test_wrong_ones(self):
-        wrong = [(), ((0, ()),), ((0, ()),) * 3, ((0, ()), ()), ((4, (0, 0)), (0, ())), ((-1, ()), (0, ())),
+        wrong = [(), ((0, ()),), ((0, ()),) * 3, ((0, ()), ()), ((4, (0, 0)), (0, ())), ((-1, ()), (0, ())), ((0, ()), (-1, ())),
                  ((1, ()), (0, ())), ((1, (0, 0)), (0, ())), ((3, (0,)), (0, ())), ((0, (0,)), (0, ())),
                  ((0, ()), (2, ())), ((0, ()), (1, (1,))), ((0, (), ()), (0, (), ())), ((True, (0,)), (0, ())),
                  ((1, (False,)), (0, ())), ((1, 0), (0, ())), 0, ((1, ("0",)), (0, ()))]
@@ -282,6 +285,7 @@ class StateTests(unittest.TestCase):
                  ((0, 0, 0, 0), ((1, (), (1,)), (0, (), ()))), ((0, 0, 0, 0), ((1, ((0, 2),), ()), (0, (), ()))),
                  ((0, 0, 0, 0), ((0, ((0, 1),), ()), (0, (), ()))), ((0, 0, 0, 0), ((1, ((True, 1),), ()), (0, (), ()))),
                  ((0, 0, 0, 0), ((1, ((False, 1),), ()), (0, (), ()))), ((0, 0, 0, 0), ((1, (0, 1), ()), (0, (), ()))),
+                 ((0, 0, 0, 0), ((1, ((0, True),), ()), (0, (), ()))),
                  ((0, 0, 0, 0), ((1, 7, ()), (0, (), ()))), ((0, 0, 0, 0), ((1, ((0, 1, 2),), ()), (0, (), ()))),
                  ((0, 0, 0, 0), ((1, ((9, 1),), ()), (0, (), ()))), ((0, 0, 0, 0), ((1, ((-1, 1),), ()), (0, (), ()))),
                  ((0, 0, 0, 0), ((0, (), ()), (3, ((3, 9),), (0,))))]
@@ -308,9 +312,12 @@ class StateTests(unittest.TestCase):
         self.assertEqual(len(by_line), 8)
         for size in range(5):
             for waiting in itertools.product(pairs, repeat=size):
-                state = ((0, 0, 0, 0), ((7, waiting, (0, 0)), (0, (), ())))
-                self.assertIs(buffered.is_buffered_state(self.PROGRAM, state), waiting in suffixes)
-                self.assertIs(loose.is_loose_state(self.PROGRAM, state), waiting in by_line)
+                for lines in ((0, 1, 2, 3), (2, 3, 0, 1)):
+                    program = with_lines(self.PROGRAM, lines)
+                    told_waiting = tuple((lines[line], value) for line, value in waiting)
+                    state = ((0, 0, 0, 0), ((7, told_waiting, (0, 0)), (0, (), ())))
+                    self.assertIs(buffered.is_buffered_state(program, state), waiting in suffixes)
+                    self.assertIs(loose.is_loose_state(program, state), waiting in by_line)
 
     def test_states_that_come_are_states(self):
         for program in programs(8, 30):

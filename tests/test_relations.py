@@ -121,6 +121,8 @@ class FitTests(unittest.TestCase):
         for source in ((True, 1), (0, True), (0, 1, 0), (0,), 0):
             self.assertIs(self.fit(self.with_source(2, ((1, 0), source))), False, source)
         self.assertIs(self.fit(self.with_source(0, ((0, 1),))), False)
+        self.assertIs(self.fit(self.with_source(0, ((False, 1), (0, 0)))), False)
+        self.assertIs(self.fit(self.with_source(0, ((0, 1), (False, 0)))), False)
         not_made = ((1, ()), (4, (2, 2, 3)))
         paper = ((((1, 0), (0, 1)), ((1, 1), (0, 1)), ((1, 3), (1, 2))), (((0, 0), (1, 1)), ((1, 2),), (), ()))
         self.assertIs(does_fit(FULL, not_made, paper), False)
@@ -169,6 +171,16 @@ class AheadTests(unittest.TestCase):
         self.assertEqual(ahead_whole(program, seen, paper, "plain"), sorted(shared + [(s, d)]))
         for order in ("buffered", "loose"):
             self.assertEqual(ahead_whole(program, seen, paper, order), sorted(shared))
+
+    def test_a_later_source_of_the_own_core(self):
+        """[205]: by `plain` it is ahead, by the other orders the whole relation leaves it out"""
+        program = ((("load", 0), ("store", 0, 1)),)
+        paper = ((((0, 0), (0, 1)),), (((0, 1),), (), (), ()))
+        both = [((0, 0), (0, 1)), ((0, 1), (0, 0))]
+        self.assertEqual(ahead_by_lines(program, ((2, (1,)),), paper), both)
+        self.assertEqual(ahead_whole(program, ((2, (1,)),), paper, "plain"), both)
+        for order in ("buffered", "loose"):
+            self.assertEqual(ahead_whole(program, ((2, (1,)),), paper, order), both[:1])
 
     def test_swaps_read_no_pairs(self):
         """[203]: what reads and is no swap"""
