@@ -1,7 +1,8 @@
 """The ways back through the moves of a table."""
 
-from coheir.effects import effect_of, moves_at
-from coheir.ghosts import crowd_of
+from coheir.effects import all_kinds
+from coheir.errors import BadMove, BadNumber
+from coheir.ghosts import crowd_of, numbers_of
 from coheir.met import met_of
 from coheir.packing import Packing, all_shares
 
@@ -37,16 +38,40 @@ def crowds_back(way, numbers, share):
     return found
 
 
+def most_ahead(heap):
+    """Return a number that no step back of a heap passes: two kinds of one cache make a move at most."""
+    return sum([number for _, _, number in heap[1]]) + 2
+
+
+def backs_by(effects, stand, move, heap):
+    """Return the ascending list of the steps back of a heap by a move from a stand."""
+    effect = effects.effect(stand, move)
+    if effect is None:
+        raise BadMove(0)
+    if effect[0] != heap[0]:
+        raise BadNumber("the move leads to another stand than that of the heap")
+    packing = Packing(all_kinds(effects.rights), most_ahead(heap))
+    crowds = crowds_back(way_back(packing, stand, effect), numbers_of(heap[1]), all_shares)
+    return sorted([(stand, crowd_of(packing.numbers(packed))) for packed in crowds])
+
+
+def backs_of(effects, heap):
+    """Return the ascending list of the least ones of all steps back of a heap of what is met."""
+    back = Backways(effects, most_ahead(heap))
+    crowds = back.backs(heap[0], numbers_of(heap[1]))
+    return back.heaps({stand: back.packing.least(crowds[stand]) for stand in crowds})
+
+
 class Backways:
     """The ways back between met stands and kinds of a table, for heaps with no number above `most`."""
 
-    def __init__(self, table, most):
-        self.stands, kinds = met_of(table)
+    def __init__(self, effects, most):
+        self.stands, kinds = met_of(effects)
         self.packing = Packing(kinds, most)
         self.ways = {stand: [] for stand in self.stands}
         for stand in self.stands:
-            for move in moves_at(table, stand):
-                effect = effect_of(table, stand, move)
+            for move in effects.moves(stand):
+                effect = effects.effect(stand, move)
                 if all(kind in self.packing.units for kind in effect[1]):
                     self.ways[effect[0]].append(way_back(self.packing, stand, effect))
 

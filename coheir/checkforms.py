@@ -18,17 +18,22 @@ def demand_table(table):
     if not has_parts(table, 3):
         raise NotTable("a table has three parts")
     rights, homes, rows = table
+    demand_states(rights, homes)
+    if not isinstance(rows, tuple) or len(rows) > 24:
+        raise NotTable("a table has at most 24 rows")
+    for row in rows:
+        if not is_row_for(row, len(rights), homes):
+            raise NotTable("a row of the table is none")
+
+
+def demand_states(rights, homes):
+    """Raise NotTable if these are no rights of the states of caches, or no number of states of the home."""
     if not isinstance(rights, tuple) or not 1 <= len(rights) <= 8:
         raise NotTable("a table has 1 to 8 rights")
     if not all(is_number(right, 0, 3) for right in rights) or rights[0] != 0:
         raise NotTable("a right is 0, 1 or 2, and the first one is 0")
     if not is_number(homes, 1, 7):
         raise NotTable("a home has 1 to 6 states")
-    if not isinstance(rows, tuple) or len(rows) > 24:
-        raise NotTable("a table has at most 24 rows")
-    for row in rows:
-        if not is_row_for(row, len(rights), homes):
-            raise NotTable("a row of the table is none")
 
 
 def is_row_for(row, states, homes):
@@ -61,11 +66,15 @@ def is_kind_of(table, kind):
 
 def is_heap_of(table, heap):
     """Tell whether a tuple is a heap."""
-    if not has_parts(heap, 2) or not is_stand_of(table, heap[0]) or not isinstance(heap[1], tuple):
+    return has_parts(heap, 2) and is_stand_of(table, heap[0]) and is_crowd_of(heap[1], len(table[0]))
+
+
+def is_crowd_of(crowd, states):
+    """Tell whether a tuple has numbers of kinds with so many states, the kinds strictly ascending."""
+    if not isinstance(crowd, tuple):
         return False
-    crowd = heap[1]
     for entry in crowd:
-        if not has_parts(entry, 3) or not is_kind_of(table, entry[:2]):
+        if not has_parts(entry, 3) or not is_number(entry[0], 0, states) or not is_number(entry[1], 0, 2):
             return False
         if type(entry[2]) is not int or entry[2] < 1:
             return False

@@ -3,10 +3,19 @@
 
 def state_led_to(table, count, moves):
     """Return the state to which a play leads, or None if some move is not allowed."""
-    state = (0, 0, tuple([(0, -1)] * count))
+    return state_after(table, state_ahead(count), moves, state_behind)
+
+
+def state_ahead(count):
+    """Return the state at the beginning with so many caches."""
+    return (0, 0, tuple([(0, -1)] * count))
+
+
+def state_after(table, state, moves, behind):
+    """Return the state behind some moves, each made by `behind`, or None if some move is not allowed."""
     for move in moves:
         if state is not None:
-            state = state_behind(table, state, move)
+            state = behind(table, state, move)
     return state
 
 
@@ -14,6 +23,11 @@ def state_behind(table, state, move):
     """Return the state behind a move, or None if it is not allowed."""
     if len(move) == 4 and move[0] == "row":
         return behind_row(table, state, move)
+    return behind_use(table, state, move)
+
+
+def behind_use(table, state, move):
+    """Return the state behind a load or a store of a cache, or None if it is not allowed."""
     if len(move) == 3 and move[0] == "store":
         return behind_store(table, state, move)
     if len(move) == 2 and move[0] == "load" and right_of(table, state, move[1]) > 0:
@@ -37,10 +51,9 @@ def behind_store(table, state, move):
     _, number, value = move
     if right_of(table, state, number) != 2 or type(value) is not int or value < 1:
         return None
-    home, copy, caches = state
-    stored = list(caches)
-    stored[number] = (caches[number][0], value)
-    return (home, copy, tuple(stored))
+    stored = list(state[2])
+    stored[number] = (stored[number][0], value)
+    return state[:2] + (tuple(stored),) + state[3:]
 
 
 def behind_row(table, state, move):
@@ -93,8 +106,14 @@ def acts_in(table, stand, kinds):
             for own in kinds:
                 if own[0] == row[1]:
                     found.extend([row_act(row, stand, own, other, kinds) for other in partners_of(row, kinds)])
+    return found + store_acts(table[0], stand, kinds)
+
+
+def store_acts(rights, stand, kinds):
+    """Return the list of the acts in a stand that are stores of caches of these kinds."""
+    found = []
     for kind in kinds:
-        if table[0][kind[0]] == 2:
+        if rights[kind[0]] == 2:
             images = {other: (other[0], 0) for other in kinds}
             found.append(((stand[0], 0), [kind], [(kind[0], 1)], images))
     return found
@@ -117,3 +136,22 @@ def row_act(row, stand, own, other, kinds):
     if other is None:
         return (behind, [own], [mine], images)
     return (behind, [own, other], [mine, (other2, mark)], images)
+
+
+def looked_at(count, named):
+    """Return how many of so many caches are looked at, if moves name these.
+
+    All caches that make no move are alike, so one of them tells what there is to see: a
+    paper with any number of caches is looked at as fast as one with few.
+    """
+    last = max([number for number in named if type(number) is int], default=-1)
+    return min(count, max(last, -1) + 2)
+
+
+def is_fault(rights, state, moves):
+    """Tell whether all stores differ, and a cache with a right has not the last value in the state behind the moves."""
+    values = [move[2] for move in moves if move[0] == "store"]
+    if len(set(values)) < len(values):
+        return False
+    last = values[-1] if values else 0
+    return any(rights[at] > 0 and copy != last for at, copy in state[2])

@@ -1,6 +1,6 @@
 """Runs of orders and of machines, made move by move."""
 
-from coheir.checkmoves import is_place, right_of, state_behind, state_led_to
+from coheir.checkmoves import behind_store, is_place, right_of, state_ahead, state_behind
 
 
 class Cores:
@@ -77,31 +77,43 @@ def has_made(cores, memory, c, order):
 
 def seen_by_machine(table, program, moves):
     """Return the sight of a run of a machine, or None if a move cannot be made."""
+    return seen_by_plays(table, program, moves, state_ahead(len(program)), state_behind)
+
+
+def seen_by_plays(table, program, moves, ahead, behind):
+    """Return the sight of a run of a machine, or None.
+
+    The plays of its lines begin with the state `ahead`, and their rows are made by `behind`.
+    """
     cores = Cores(program)
-    lines = [state_led_to(table, len(program), []) for _ in range(4)]
+    lines = [ahead] * 4
     for move in moves:
         if is_for_core(program, move):
             done = has_stepped(table, cores, lines, move)
         else:
-            done = has_rowed(table, lines, move)
+            done = has_rowed(table, lines, move, behind)
         if not done:
             return None
     return cores.sight()
 
 
-def has_rowed(table, lines, move):
+def has_rowed(table, lines, move, behind):
     """Make a row in the play of a line, and tell whether it was allowed."""
     if len(move) != 5 or move[0] != "row" or not is_place(move[1], lines):
         return False
-    return has_played(table, lines, move[1], ("row",) + move[2:])
+    return has_come(lines, move[1], behind(table, lines[move[1]], ("row",) + move[2:]))
 
 
-def has_played(table, lines, line, move):
-    """Make a move in the play of a line, and tell whether it was allowed."""
-    behind = state_behind(table, lines[line], move)
-    if behind is None:
+def has_stored(table, lines, line, c, value):
+    """Let a cache store a value in the play of a line, and tell whether it was allowed."""
+    return has_come(lines, line, behind_store(table, lines[line], ("store", c, value)))
+
+
+def has_come(lines, line, state):
+    """Let the play of a line come to a state, and tell whether there is one."""
+    if state is None:
         return False
-    lines[line] = behind
+    lines[line] = state
     return True
 
 
@@ -112,7 +124,7 @@ def has_stepped(table, cores, lines, move):
         if not cores.waiting[c]:
             return False
         line, value = cores.waiting[c].pop(0)
-        return has_played(table, lines, line, ("store", c, value))
+        return has_stored(table, lines, line, c, value)
     instruction = cores.coming(c)
     if instruction is None:
         return False
@@ -131,4 +143,4 @@ def has_read(table, cores, lines, c, instruction):
     if own is None and right_of(table, lines[line], c) == 0:
         return False
     cores.told[c].append(lines[line][2][c][1] if own is None else own)
-    return instruction[0] == "load" or has_played(table, lines, line, ("store", c, instruction[2]))
+    return instruction[0] == "load" or has_stored(table, lines, line, c, instruction[2])

@@ -10,10 +10,20 @@ def lists_are_closed(table, stands, kinds):
         return False
     if not all(is_kind_of(table, kind) for kind in kinds):
         return False
+    return have_all_behind(stands, kinds, all_acts(table, stands, kinds))
+
+
+def all_acts(table, stands, kinds):
+    """Return the dict of the lists of the acts in each stand of a list, by caches of the kinds of a list."""
+    return {stand: acts_in(table, stand, once(kinds)) for stand in once(stands)}
+
+
+def have_all_behind(stands, kinds, acts):
+    """Tell whether stands and kinds have what there is at the beginning, and all that the acts make."""
     if (0, 1) not in stands or (0, 0) not in kinds:
         return False
-    for stand in once(stands):
-        for behind, _, made, images in acts_in(table, stand, once(kinds)):
+    for told in acts.values():
+        for behind, _, made, images in told:
             if behind not in stands or not all(kind in kinds for kind in made):
                 return False
             if not all(image in kinds for image in images.values()):
@@ -30,25 +40,30 @@ def heaps_are_closed(table, stands, kinds, heaps):
     """Tell whether a list of heaps is a wall for two closed lists."""
     if not all(is_heap_of(table, heap) for heap in heaps):
         return False
-    crowds = {stand: [] for stand in once(stands)}
+    return are_held(table[0], kinds, all_acts(table, stands, kinds), heaps)
+
+
+def are_held(rights, kinds, acts, heaps):
+    """Tell whether heaps are a wall for closed lists: for the kinds, and for the stands of the acts."""
+    crowds = {stand: [] for stand in acts}
     for stand, crowd in once(heaps):
         if stand not in crowds or not all(entry[:2] in kinds for entry in crowd):
             return False
         crowds[stand].append(crowd)
-    if not bad_are_above(table, once(kinds), crowds):
+    if not bad_are_above(rights, once(kinds), crowds):
         return False
-    for stand in crowds:
-        for act in acts_in(table, stand, once(kinds)):
+    for stand in acts:
+        for act in acts[stand]:
             if not all(backs_are_above(act, crowd, crowds[stand]) for crowd in crowds.get(act[0], [])):
                 return False
     return True
 
 
-def bad_are_above(table, kinds, crowds):
+def bad_are_above(rights, kinds, crowds):
     """Tell whether for each stand each least bad heap is above one of the crowds of this stand."""
     nobody = {kind: 0 for kind in kinds}
     for kind in kinds:
-        if kind[1] == 0 and table[0][kind[0]] > 0:
+        if kind[1] == 0 and rights[kind[0]] > 0:
             alone = more_of(nobody, kind, 1)
             if not all(is_above_one(alone, told) for told in crowds.values()):
                 return False

@@ -1,5 +1,6 @@
 """Coherent tables, bad runs of others, and tables that pass values."""
 
+from coheir.effects import Effects
 from coheir.errors import NoAnswer
 from coheir.ghostlead import lifted
 from coheir.ghosts import start_heap
@@ -16,13 +17,13 @@ def is_coherent(table):
 def fewest_caches(table):
     """Return the fewest caches with which a bad heap comes, or None."""
     check_table(table)
-    return Layers(table).fewest()
+    return Layers(Effects(table)).fewest()
 
 
 def bad_run(table):
     """Return a bad run: the moves of a play with the fewest caches."""
     check_table(table)
-    return run_of(table, Layers(table))
+    return run_of(table, Layers(Effects(table)))
 
 
 def run_of(table, layers):

@@ -7,3 +7,12 @@ def copies_behind(row, home, own, other):
     for_home = {"keep": home, "own": own, "other": other}
     for_own = {"keep": own, "home": home, "other": other}
     return for_home[back], for_own[source]
+
+
+def split_copies_behind(row, home, own, got):
+    """Return what the home and the own cache have behind a split row, and the list of what is sent."""
+    sends, source, back = row[6:]
+    told = {"home": home, "own": own, "got": got}
+    for_home = home if back == "keep" else told[back]
+    for_own = own if source == "keep" else told[source]
+    return for_home, for_own, [told[word] for _, word in sends]

@@ -21,6 +21,12 @@ class Desk:
     def __init__(self):
         self.things = {}
 
+    def copied(self):
+        """Return a desk of its own that has the same things."""
+        other = Desk()
+        other.things = {name: self.things[name] for name in self.things}
+        return other
+
     def answers(self, lines):
         """Return the list of the answers to several lines, in order."""
         return [self.answer(line) for line in lines]

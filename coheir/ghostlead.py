@@ -1,7 +1,7 @@
 """From plays with numbered caches to heaps, and back."""
 
 from coheir.copies import copies_behind
-from coheir.effects import effect_of
+from coheir.effects import Effects
 from coheir.errors import BadNumber
 from coheir.ghosts import crowd_of, heap_run, start_heap
 from coheir.lineplay import check_state, states_on
@@ -38,11 +38,16 @@ def counted(table, state, marks):
         raise BadNumber("a mark is 0 or 1")
     if len(marks[1]) != len(caches):
         raise BadNumber("there is one mark for each cache")
+    return ((home, marks[0]), counted_crowd(caches, marks[1]))
+
+
+def counted_crowd(entries, marks):
+    """Return how many entries of each kind there are, the first part of an entry and its mark."""
     numbers = {}
-    for cache, mark in zip(caches, marks[1]):
-        kind = (cache[0], mark)
+    for entry, mark in zip(entries, marks):
+        kind = (entry[0], mark)
         numbers[kind] = numbers.get(kind, 0) + 1
-    return ((home, marks[0]), crowd_of(numbers))
+    return crowd_of(numbers)
 
 
 def led(table, n, moves):
@@ -64,12 +69,12 @@ def led(table, n, moves):
 def lifted(table, n, moves):
     """Return the list of the moves of the lifted play."""
     heaps = heap_run(table, start_heap(table, n), moves)
+    effects = Effects(table)
     crew = Crew()
     found = []
     stores = 0
     for heap, move in zip(heaps, moves):
-        effect = effect_of(table, heap[0], move)
-        made = crew.make(effect)
+        made = crew.make(effects.effect(heap[0], move))
         if move[0] == "store":
             stores += 1
             found.append(("store", made[0], stores))

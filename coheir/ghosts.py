@@ -1,7 +1,8 @@
 """Heaps: how many caches of each kind there are, and which copies are fresh."""
 
-from coheir.effects import effect_of, moves_at
-from coheir.errors import BadMove, BadNumber, NotHeap
+from coheir.effects import Effects
+from coheir.errors import BadNumber, NotHeap
+from coheir.runs import states_by
 from coheir.tables import check_table
 from coheir.whole import is_tuple_of, is_whole, is_within
 
@@ -36,11 +37,16 @@ def is_heap(table, heap):
 
 def has_heap(table, heap):
     """Tell whether a tuple is a heap of what is a table."""
-    if not is_tuple_of(heap, 2) or not has_stand(table, heap[0]) or not isinstance(heap[1], tuple):
+    return is_tuple_of(heap, 2) and has_stand(table, heap[0]) and is_crowd(heap[1], len(table[0]))
+
+
+def is_crowd(crowd, size):
+    """Tell whether a tuple has numbers of kinds with so many states, the kinds strictly ascending."""
+    if not isinstance(crowd, tuple):
         return False
     ahead = (-1, 0)
-    for entry in heap[1]:
-        if not is_tuple_of(entry, 3) or not has_kind(table, entry[:2]):
+    for entry in crowd:
+        if not is_tuple_of(entry, 3) or not is_within(entry[0], 0, size - 1) or not is_within(entry[1], 0, 1):
             return False
         if not is_whole(entry[2]) or entry[2] < 1 or entry[:2] <= ahead:
             return False
@@ -78,17 +84,17 @@ def start_heap(table, n):
 def is_bad(table, heap):
     """Tell whether a cache with a right has an old copy."""
     check_heap(table, heap)
-    return has_old_right(table, heap)
+    return has_old_right(table[0], heap[1])
 
 
-def has_old_right(table, heap):
-    """Tell whether what is a heap is bad."""
-    return any(mark == 0 and table[0][state] > 0 for state, mark, _ in heap[1])
+def has_old_right(rights, crowd):
+    """Tell whether a crowd has a cache with a right and an old copy."""
+    return any(mark == 0 and rights[state] > 0 for state, mark, _ in crowd)
 
 
-def heap_behind(table, heap, move):
-    """Return the heap behind a move, or None if it cannot be made."""
-    effect = effect_of(table, heap[0], move)
+def heap_behind(effects, heap, move):
+    """Return the heap behind a move with its effect, or None if it cannot be made."""
+    effect = effects.effect(heap[0], move)
     if effect is None:
         return None
     stand, ahead, behind, images = effect
@@ -108,17 +114,17 @@ def heap_behind(table, heap, move):
 def heap_moves(table, heap):
     """Return the list of the pairs of a move of a heap and the heap behind it."""
     check_heap(table, heap)
-    pairs = [(move, heap_behind(table, heap, move)) for move in moves_at(table, heap[0])]
+    return moves_from(Effects(table), heap)
+
+
+def moves_from(effects, heap):
+    """Return the list of the pairs of a move with an effect in a heap and the heap behind it."""
+    pairs = [(move, heap_behind(effects, heap, move)) for move in effects.moves(heap[0])]
     return [(move, behind) for move, behind in pairs if behind is not None]
 
 
 def heap_run(table, heap, moves):
     """Return the list of the heaps of a run, the first one first."""
     check_heap(table, heap)
-    found = [heap]
-    for at, move in enumerate(moves):
-        behind = heap_behind(table, found[-1], move)
-        if behind is None:
-            raise BadMove(at)
-        found.append(behind)
-    return found
+    effects = Effects(table)
+    return states_by(heap, moves, lambda one, move: heap_behind(effects, one, move))

@@ -3,7 +3,7 @@
 from coheir.backs import is_below
 from coheir.backways import Backways
 from coheir.errors import NoAnswer, TooLarge
-from coheir.ghosts import heap_moves
+from coheir.ghosts import moves_from
 from coheir.met import least_bad
 
 MOST_HEAPS = 1000
@@ -20,10 +20,10 @@ def is_above_one(heaps, heap):
 class Layers:
     """The bars of a table within 0, 1, 2 .. moves, until they stay the same, or within `most` moves."""
 
-    def __init__(self, table, most=None):
-        self.table = table
-        self.back = Backways(table, MOST_NUMBER)
-        self.bars = [least_bad(table)]
+    def __init__(self, effects, most=None):
+        self.effects = effects
+        self.back = Backways(effects, MOST_NUMBER)
+        self.bars = [least_bad(effects)]
         crowds = self.back.crowds(self.bars[0])
         news = crowds
         while any(news.values()) and (most is None or len(self.bars) <= most):
@@ -83,7 +83,7 @@ class Layers:
 
     def step(self, heap, left):
         """Return the first move to a heap that comes to a bad one with so many moves left, and this heap."""
-        pairs = heap_moves(self.table, heap)
+        pairs = moves_from(self.effects, heap)
         return [pair for pair in pairs if is_above_one(self.bars[left], pair[1])][0]
 
     def fewest(self):

@@ -1,7 +1,8 @@
 """Plays of one line with numbered caches."""
 
 from coheir.copies import copies_behind
-from coheir.errors import BadMove, BadNumber, NotState
+from coheir.errors import BadNumber, NotState
+from coheir.runs import states_by
 from coheir.tables import check_table
 from coheir.whole import is_tuple_of, is_whole, is_within
 
@@ -48,6 +49,11 @@ def line_behind(table, state, move):
     """Return the state behind a move, or None if it is not allowed."""
     if len(move) == 4 and move[0] == "row":
         return behind_row(table, state, move)
+    return behind_access(table, state, move)
+
+
+def behind_access(table, state, move):
+    """Return the state behind a load or a store, or None."""
     if len(move) == 3 and move[0] == "store":
         return behind_store(table, state, move)
     if len(move) == 2 and move[0] == "load":
@@ -63,11 +69,11 @@ def has_right(table, state, k, least):
 
 def behind_store(table, state, move):
     """Return the state behind a store, or None."""
-    home, value, caches = state
     _, k, stored = move
     if not has_right(table, state, k, 2) or not is_whole(stored) or stored < 1:
         return None
-    return (home, value, caches[:k] + ((caches[k][0], stored),) + caches[k + 1:])
+    caches = state[2]
+    return state[:2] + (caches[:k] + ((caches[k][0], stored),) + caches[k + 1:],) + state[3:]
 
 
 def behind_row(table, state, move):
@@ -101,7 +107,12 @@ def can_make(row, state, k, j):
 def moves_in(table, state):
     """Return the list of the moves of rows and loads that are allowed."""
     check_state(table, state)
-    return rows_in(table, state) + [("load", k) for k in range(len(state[2])) if has_right(table, state, k, 1)]
+    return rows_in(table, state) + loads_in(table, state)
+
+
+def loads_in(table, state):
+    """Return the list of the loads that are allowed."""
+    return [("load", k) for k in range(len(state[2])) if has_right(table, state, k, 1)]
 
 
 def rows_in(table, state):
@@ -120,13 +131,7 @@ def states_on(table, n, moves):
     check_table(table)
     if n < 0:
         raise BadNumber("there are no fewer than 0 caches")
-    found = [line_begin(n)]
-    for at, move in enumerate(moves):
-        behind = line_behind(table, found[-1], move)
-        if behind is None:
-            raise BadMove(at)
-        found.append(behind)
-    return found
+    return states_by(line_begin(n), moves, lambda state, move: line_behind(table, state, move))
 
 
 def play(table, n, moves):
@@ -136,6 +141,10 @@ def play(table, n, moves):
 
 def loads_on(table, n, moves):
     """Return the list of the index, the cache and the told value of each load."""
-    states = states_on(table, n, moves)
+    return told_by_loads(states_on(table, n, moves), moves)
+
+
+def told_by_loads(states, moves):
+    """Return the list of the index, the cache and the told value of each load of a play with these states."""
     loads = [(at, move[1]) for at, move in enumerate(moves) if move[0] == "load"]
     return [(at, k, states[at][2][k][1]) for at, k in loads]

@@ -1,6 +1,7 @@
 """Programs made out of faults: a program whose sight on the machine of a table is not buffered, with a proof."""
 
 from coheir.coherence import found_pass, run_of
+from coheir.effects import Effects
 from coheir.errors import NoAnswer, TooLarge
 from coheir.layers import Layers
 from coheir.lineplay import has_right, play
@@ -19,18 +20,37 @@ def sight_proved(program, observation, proof):
 def made_program(table):
     """Return the program, the run and the proof that are made of a bad run, or None if the table is coherent."""
     check_table(table)
-    layers = Layers(table)
+    layers = Layers(Effects(table))
     count = layers.fewest()
     if count is None:
         return None
-    return made_of(table, count, run_of(table, layers))
+    bad = run_of(table, layers)
+    return made_of(table, play(table, count, bad), bad, lambda writer, reader: pass_between(table, writer, reader))
 
 
-def made_of(table, count, bad):
-    """Return the program, the run and the proof that are made of a bad run with so many caches."""
+def pass_between(table, writer, reader):
+    """Return a passing run in which these caches store and load, or None."""
+    passing = found_pass(table)
+    if passing is None:
+        return None
+    caches = {0: writer, 1: reader, -1: -1}
+    found = []
+    for move in passing:
+        if move[0] == "row":
+            found.append(("row", move[1], caches[move[2]], caches[move[3]]))
+        else:
+            found.append(move[:1] + (caches[move[1]],) + move[2:])
+    return found
+
+
+def made_of(table, state, bad, find_pass):
+    """Return the program, the run and the proof that are made of a bad run to a state.
+
+    `find_pass` is called only if a flag is needed, with the caches that store and load.
+    """
     stores = [move for move in bad if move[0] == "store"]
-    cores, chain = cores_of(count, stores)
-    reader, copy = reader_of(table, play(table, count, bad), stores[-1][2] if stores else 0)
+    cores, chain = cores_of(len(state[2]), stores)
+    reader, copy = reader_of(table, state, stores[-1][2] if stores else 0)
     run = [line_move(0, move) for move in bad]
     word = "flag"
     if copy == -1:
@@ -38,7 +58,8 @@ def made_of(table, count, bad):
     elif stores[-1][1] == reader:
         word = "behind"
     else:
-        run = run + with_flag(table, cores, stores[-1][1], reader)
+        writer = stores[-1][1]
+        run = run + with_flag(cores, writer, reader, find_pass(writer, reader))
     cores[reader].append(("load", 0))
     program = tuple([tuple(core) for core in cores])
     check_size(program)
@@ -68,22 +89,20 @@ def line_move(line, move):
     return ("make", move[1]) if move[0] == "store" else ("row", line) + move[1:]
 
 
-def with_flag(table, cores, writer, reader):
+def with_flag(cores, writer, reader, passing):
     """Add a flag on the line 1 to two cores, and return the moves up to the reader's load of it."""
-    passing = found_pass(table)
     if passing is None:
         raise NoAnswer("the table does not pass")
     cores[writer].append(("store", 1, 1))
     cores[reader].append(("load", 1))
-    caches = {0: writer, 1: reader, -1: -1}
     run = [("make", writer)]
     for move in passing:
-        if move[0] == "row":
-            run.append(("row", 1, move[1], caches[move[2]], caches[move[3]]))
-        elif move[0] == "store":
+        if move[0] == "store":
             run.append(("drain", writer))
-        else:
+        elif move[0] == "load":
             run.append(("make", reader))
+        else:
+            run.append(line_move(1, move))
     return run
 
 

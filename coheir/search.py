@@ -33,17 +33,18 @@ def played(program, begin, moves, behind):
     return state
 
 
-def states_from(program, begin, followers):
+def states_from(told, begin, followers):
     """Return a dict of all states that can come, in the order of the lengths of the runs to them.
 
-    Each state has the state ahead of it and the move between, the first one None.
+    `followers` is called with what is told, a program or a table, and a state. Each state has the
+    state ahead of it and the move between, the first one None.
     """
     found = {begin: None}
     layer = [begin]
     while layer:
         reached = []
         for state in layer:
-            for move, behind in followers(program, state):
+            for move, behind in followers(told, state):
                 if behind not in found:
                     found[behind] = (state, move)
                     reached.append(behind)

@@ -5,7 +5,7 @@ need not trust what made the papers.
 """
 
 from coheir.checkforms import demand_table, has_parts
-from coheir.checkmoves import state_led_to
+from coheir.checkmoves import is_fault, looked_at, state_led_to
 from coheir.checkwalls import heaps_are_closed, lists_are_closed
 
 
@@ -47,28 +47,9 @@ def is_comes(table, paper):
     if not has_parts(paper, 3) or paper[0] != "comes":
         return False
     _, count, moves = paper
-    state = line_led_to(table, looked_at(count, moves), moves)
-    if state is None:
-        return False
-    values = [move[2] for move in moves if move[0] == "store"]
-    if len(set(values)) < len(values):
-        return False
-    last = values[-1] if values else 0
-    return any(table[0][at] > 0 and copy != last for at, copy in state[2])
-
-
-def looked_at(count, moves):
-    """Return how many of so many caches are looked at.
-
-    All caches that make no move are alike, so one of them tells what there is to see: a
-    paper with any number of caches is looked at as fast as one with few.
-    """
-    last = -1
-    for move in moves:
-        for number in (move[2:] if move[0] == "row" else move[1:2]):
-            if type(number) is int and number > last:
-                last = number
-    return min(count, last + 2)
+    named = [number for move in moves for number in (move[2:] if move[:1] == ("row",) else move[1:2])]
+    state = line_led_to(table, looked_at(count, named), moves)
+    return state is not None and is_fault(table[0], state, moves)
 
 
 def shown(table, paper):

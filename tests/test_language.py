@@ -26,7 +26,7 @@ BARRED_WORDS = set(
 )
 STATEMENTS = (
     ast.Assign, ast.AugAssign, ast.If, ast.While, ast.For, ast.Return, ast.Break, ast.Continue, ast.Pass, ast.Raise,
-    ast.Expr, ast.FunctionDef, ast.ClassDef, ast.ImportFrom, ast.Try,
+    ast.Expr, ast.FunctionDef, ast.ClassDef, ast.ImportFrom, ast.Try, ast.With,
 )
 LIBRARY = {"itertools": ["combinations"]}
 
@@ -257,9 +257,38 @@ class InterfaceTests(unittest.TestCase):
                       " case_holds(table,program,moves,proof)",
         "rowsets": "with_rows(table,rows) least_passing(table,rows) greatest_safe(table,rows) mends(table,rows)",
         "lines": "words_of(line) is_name(word) number_in(word)",
+        "journal": "attempt(journal,lines,*,keep) resume(text)",
+        "splittables": "is_split_table(table) check_split_table(table) split_of(table) split_without(table,numbers)"
+                       " split_renamed(table,states,homes,messages)",
+        "splitsamples": "split_msi() split_forgetful(table,number)",
+        "splittexts": "text_of_split(table) read_split(text)",
+        "splitplay": "split_begin(n) is_split_state(table,state) check_split_state(table,state)"
+                     " split_behind(table,state,move) split_moves_in(table,state) split_states_on(table,n,moves)"
+                     " split_play(table,n,moves) split_loads_on(table,n,moves)",
+        "splitghosts": "is_split_heap(table,heap) split_start(table,n) is_split_bad(table,heap)"
+                       " split_heap_moves(table,heap) split_heap_run(table,heap,moves)",
+        "splitlead": "split_marks_on(table,n,moves) split_counted(table,state,marks) split_led(table,n,moves)"
+                     " split_lifted(table,n,moves)",
+        "splitbacks": "split_met(table) is_split_below(one,other) least_split(heaps)"
+                      " split_backs_by(table,stand,move,heap) split_backs(table,heap)",
+        "splitbars": "split_bad_heaps(table) split_bar(table) split_bar_within(table,most)"
+                     " is_split_bar_closed(table,heaps) split_comes(table,heap) split_run_from(table,heap)",
+        "splitcoherence": "is_split_coherent(table) split_fewest(table) split_bad_run(table) split_passes(table)"
+                          " split_passing_run(table)",
+        "splitpapers": "split_verdict(table)",
+        "splitmachine": "begin_split_machine(table,program) split_machine_moves(table,program,state)"
+                        " split_machine_states_on(table,program,moves) split_machine_play(table,program,moves)"
+                        " split_sight(table,program,moves)",
+        "splitmaking": "split_made_program(table)",
+        "splitcheck": "split_led_to(table,n,moves) are_split_closed(table,stands,kinds,notes)"
+                      " split_heaps_hold(table,stands,kinds,notes,heaps) is_split_never(table,paper)"
+                      " is_split_comes(table,paper) split_shown(table,paper)"
+                      " split_machine_led_to(table,program,moves) split_case_holds(table,program,moves,proof)",
     }
     CLASSES = {
         "desk": {"Desk": "__init__(self) answer(self,line) answers(self,lines) names(self) thing(self,name)"},
+        "journal": {"Journal": "__init__(self) answer(self,line) record(self) lines(self) keep(self) __enter__(self)"
+                               " __exit__(self,kind,value,trace)"},
     }
 
     def test_interface(self):
@@ -287,15 +316,16 @@ class InterfaceTests(unittest.TestCase):
                     self.assertIn(function, found, name)
 
     def test_checkers_stand_alone(self):
-        """[130], [300]: what the modules of the checkers import"""
+        """[130], [300], [480]: what the modules of the checkers import"""
         told = trees()
         tables = {"errors", "tablecheck", "checkforms", "checkmoves", "checkwalls"}
         others = {"ordercheck", "checkprograms", "checkruns", "checkpapers", "checkproofs"}
-        for name in tables | others:
-            for node in told[name].body:
-                if isinstance(node, ast.ImportFrom):
-                    allowed = tables | others if name in others else tables
-                    self.assertIn(node.module.removeprefix("coheir."), allowed, name)
+        splits = {"splitcheck", "checksplits", "checksplitmoves"}
+        for names, allowed in ((tables, tables), (others, tables | others), (splits, tables | others | splits)):
+            for name in names:
+                for node in told[name].body:
+                    if isinstance(node, ast.ImportFrom):
+                        self.assertIn(node.module.removeprefix("coheir."), allowed, name)
 
 
 if __name__ == "__main__":

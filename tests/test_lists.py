@@ -4,8 +4,9 @@ import itertools
 import unittest
 
 from coheir.backs import least_of, met_kinds, met_stands, steps_back
-from coheir.bars import are_above, bad_heaps, heights_of, is_bar_closed
+from coheir.bars import bad_heaps, is_bar_closed
 from coheir.checkwalls import deals_are_above
+from coheir.closing import are_above, heights_of
 from coheir.packing import Packing
 from coheir.tablecheck import wall_holds
 from support import chance, random_table
