@@ -48,7 +48,7 @@ def behind_row_of_split(table, state, move):
 def is_chosen(place, wanted, entries):
     """Tell whether a move tells the place of an entry of the wanted number, or -1 if none is wanted."""
     if wanted == -1:
-        return type(place) is int and place == -1
+        return place == -1
     return is_place(place, entries) and entries[place][0] == wanted
 
 

@@ -241,17 +241,6 @@ def random_moves(source, table, n, length, values=(1, 2), most_under_way=6):
     return moves
 
 
-def with_new_values(moves):
-    """Return a play with the values 1, 2, 3 .. in its stores, where messages stand at the same places still."""
-    found, value = [], 0
-    for move in moves:
-        if move[0] == "store":
-            value += 1
-            move = ("store", move[1], value)
-        found.append(move)
-    return found
-
-
 def from_heap(table, heap):
     """Return a play with the caches and messages of a heap, with copies that are their marks."""
     stand, crowd, net = heap
@@ -642,3 +631,19 @@ def split_counting(count):
         sends = () if last else ((kind2, "got"),)
         rows.append((home, 0, kind, home if last else home2, 2 if last else 1, same, sends, "keep", "keep"))
     return ((0, 0, 1, 0, 0, 0, 0, 0), 6, 8, tuple(rows))
+
+
+def with_one_store():
+    """Return a split table with 20,000 states with one store at the most, and more if there could be two.
+
+    Behind a store, and a message with the stored copy, the cache takes the copy of the home: a
+    second store would lead to a state to which one store alone does not lead.
+    """
+    rights, homes, kinds, rows = with_parts(((8, 5), (6, 5), (6, 3)))
+    same = tuple(range(8))
+    return ((0, 0, 0, 0, 0, 2, 2, 2), homes, kinds, rows + (
+        (0, -1, -1, 5, -1, same, (), "keep", "keep"), (5, 0, -1, 5, 6, same, (), "keep", "keep"),
+        (5, 6, -1, 5, 7, same, ((0, "own"),), "keep", "keep"), (5, 7, -1, 5, 5, same, (), "home", "keep"),
+        (5, 0, -1, 5, 4, same, ((3, "own"),), "keep", "keep"), (5, -1, -1, 5, -1, same, ((1, "home"),), "keep", "keep"),
+        (5, -1, -1, 5, -1, same, ((2, "home"),), "keep", "keep"),
+    ))

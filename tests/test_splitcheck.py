@@ -88,7 +88,8 @@ class TableTests(unittest.TestCase):
             (), msi(), ((0,), 1, 1), ((0,), 1, 1, (), ()), ((), 1, 1, ()), ((0,) * 9, 1, 1, ()), ((1,), 1, 1, ()),
             ((0, 3), 1, 1, ()), ((0, -1), 1, 1, ()), ((0, "1"), 1, 1, ()), ((0,), 0, 1, ()), ((0,), 7, 1, ()),
             ((0,), "1", 1, ()), ((0,), 1, 0, ()), ((0,), 1, 9, ()), ((0,), 1, "1", ()), ((0,), 1, True, ()), ((0,), True, 1, ()),
-            ((False,), 1, 1, ()), ((0,), 1, 1, (row,) * 41), ((0,), 1, 1, (row[:8],)), ((0,), 1, 1, (row + ("keep",),)),
+            ((False,), 1, 1, ()), ((0,), 1, 1, []), ((0,), 1, 1, ((-1, -1, -1, -1, -1, (0,), (), "keep", "keep"),)),
+            ((0,), 1, 1, ((-1, -1, 0, -1, -1, (0,), ((0, "got"),), "keep", "keep"),)), ((0,), 1, 1, (row,) * 41), ((0,), 1, 1, (row[:8],)), ((0,), 1, 1, (row + ("keep",),)),
         ):
             self.wrong(table)
         for table in (((0,), 1, 1, (row,) * 40), ((0,) + (2,) * 7, 6, 8, ()), NO_SPLIT_ROWS, SPLIT_ALONE):
@@ -232,7 +233,7 @@ class ClosedTests(unittest.TestCase):
         ):
             for entry in wrong:
                 self.assertIs(are_split_closed(split_msi(), *changed(lists, at, lists[at] + [entry])), False)
-        for wrong in ((1, 0), (0, -1), (-1, 0)):
+        for wrong in ((1, 0), (0, -1), (-1, 0), (0, 2)):
             self.assertIs(are_split_closed(NO_SPLIT_ROWS, [(0, 1)], [(0, 0)], [wrong]), False)
             self.assertIs(are_split_closed(NO_SPLIT_ROWS, [(0, 1), wrong], [(0, 0)], []), False)
         self.assertIs(are_split_closed(NO_SPLIT_ROWS, [(0, 1)], [(0, 0)], []), True)

@@ -16,7 +16,7 @@ from coheir.splitsamples import split_forgetful, split_msi
 from coheir.splittables import split_of, split_without
 from splits import (
     ASKING, BOTH, CARELESS, NO_SPLIT_ROWS, ONE_MORE, SELF, SPLIT_ALONE, TOO_WIDE_SPLIT, TWENTY_THOUSAND, WIDE_SPLIT, Play,
-    is_below_by_words, nearby_split, passing_search, passing_states, random_split, shortest_bad,
+    is_below_by_words, nearby_split, passing_search, passing_states, with_one_store, random_split, shortest_bad,
 )
 from support import ALONE, NO_ROWS, SMALL, chance, random_table
 
@@ -248,6 +248,19 @@ class PassingTests(unittest.TestCase):
             split_passes(((0, 2, 0, 0), 1, 8, tuple(rows)))
         self.assertEqual(len(passing_states(((0, 2, 0, 0), 1, 8, tuple(rows[:-2])))), 10500)
         self.assertIs(split_passes(((0, 2, 0, 0), 1, 8, tuple(rows[:-2]))), False)
+
+    def test_one_store_alone(self):
+        """More stores would lead to more than 20,000 states here"""
+        table = with_one_store()
+        self.assertEqual(len(passing_states(table)), 20000)
+        self.assertIs(split_passes(table), False)
+
+    def test_without_the_right(self):
+        """The cache 1 comes to the stored copy, but may not load it; the cache 0 may still"""
+        rows = ((0, 0, -1, 1, 1, (0, 1, 2), (), "home", "keep"), (1, 1, -1, 2, 1, (0, 1, 2), (), "keep", "own"),
+                (2, 0, -1, 2, 2, (0, 1, 2), (), "home", "keep"))
+        self.assertIs(split_passes(((0, 2, 0), 3, 1, rows)), False)
+        self.assertEqual(self.check(((0, 2, 1), 3, 1, rows)), 5)
 
     def test_errors(self):
         for function in (split_passes, split_passing_run):

@@ -135,7 +135,7 @@ class MoveTests(unittest.TestCase):
         for move in (("store", 0, 0), ("store", 0, -1), ("store", 0, -BIG), ("store", 0, "1"), ("store", 1, 1), ("store", 2, 1),
                      ("store", -2, 1), ("store", -1, 1), ("load", 1), ("load", 2), ("load", -1), ("load", -2), ("load", "0"),
                      ("load",), ("load", 0, 0), ("store", 0), ("store", 0, 1, 1), (), ("row",), ("row", 6, 0), ("x", 0),
-                     ("x", 0, 1), ("x", 6, 0, -1), ("row", 7, 0, -1, -1)):
+                     ("x", 0, 1), ("x", 6, 0, -1), ("x", 0, 1, -1), ("row", 7, 0, -1, -1)):
             self.refused(split_msi(), state, move)
         state = split_play(split_msi(), 1, [("row", 0, 0, -1), ("row", 1, -1, 0), ("row", 2, 0, 0)])
         self.assertEqual(split_behind(split_msi(), state, ("load", 0)), state)
