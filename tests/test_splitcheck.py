@@ -493,7 +493,8 @@ class ComesTests(unittest.TestCase):
     def test_wrong_moves(self):
         word, count, moves = split_verdict(FORGETFUL)
         for at in range(len(moves) + 1):
-            for wrong in (("x", 1), (), ("row",), ("store",), ("load",), ("row", 8, -1, 0), ("store", 5, 1), ("row", 0, 9, -1)):
+            for wrong in (("x", 1), (), ("row",), ("store",), ("load",), ("row", 8, -1, 0), ("store", 5, 1), ("row", 0, 9, -1),
+                          ("row", 0, "0", -1), ("store", "0", 1), ("load", "1"), ("row", 0, -7, -1)):
                 self.none(FORGETFUL, (word, count, moves[:at] + [wrong] + moves[at:]))
         for at in range(len(moves)):
             self.none(FORGETFUL, (word, count, moves[:at] + moves[at + 1:]))
