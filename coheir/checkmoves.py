@@ -138,14 +138,33 @@ def row_act(row, stand, own, other, kinds):
     return (behind, [own, other], [mine, (other2, mark)], images)
 
 
-def looked_at(count, named):
-    """Return how many of so many caches are looked at, if moves name these.
+def looked_at(count, moves, last):
+    """Return a number of caches, and the same moves of these, that tell as much as so many caches do.
 
-    All caches that make no move are alike, so one of them tells what there is to see: a
-    paper with any number of caches is looked at as fast as one with few.
+    In a row the numbers of caches stand from its third part to this last one, in other moves
+    in the second part. All caches that no move names are alike, so one of them tells what
+    there is to see: any caches of any number are looked at as fast as the first ones of few.
     """
-    last = max([number for number in named if type(number) is int], default=-1)
-    return min(count, max(last, -1) + 2)
+    named = []
+    for move in moves:
+        first, end = places_of_caches(move, last)
+        named.extend([number for number in move[first:end] if is_named(number, count)])
+    places = {number: place for place, number in enumerate(sorted(set(named)))}
+    found = []
+    for move in moves:
+        first, end = places_of_caches(move, last)
+        found.append(move[:first] + tuple([places.get(part, part) for part in move[first:end]]) + move[end:])
+    return min(count, len(places) + 1), found
+
+
+def places_of_caches(move, last):
+    """Return where the numbers of caches begin and end in a move, if those of a row end at this last part."""
+    return (2, last) if move[:1] == ("row",) else (1, 2)
+
+
+def is_named(number, count):
+    """Tell whether a value is the number of one of so many caches."""
+    return type(number) is int and 0 <= number < count
 
 
 def is_fault(rights, state, moves):

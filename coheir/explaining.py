@@ -21,7 +21,7 @@ class Traces:
         self.order = order
         self.made = [0] * len(program)
         self.waiting = [[] for _ in program]
-        self.lines = [[], [], [], []]
+        self.rows = [[], [], [], []]
         self.sources = {}
 
     def line(self, event):
@@ -32,7 +32,7 @@ class Traces:
         """Return the event whose value an event finds."""
         line = self.line(event)
         own = [other for other in self.waiting[event[0]] if self.line(other) == line]
-        found = own if own else self.lines[line]
+        found = own if own else self.rows[line]
         return found[-1] if found else BEGINNING
 
     def make(self, c):
@@ -45,13 +45,13 @@ class Traces:
         if instruction[0] == "store" and self.order != "plain":
             self.waiting[c].append(event)
         elif does_write(instruction):
-            self.lines[instruction[1]].append(event)
+            self.rows[instruction[1]].append(event)
 
     def drain(self, c, lines):
         """Follow the oldest waiting store of one of these lines out of the buffer."""
         event = [other for other in self.waiting[c] if self.line(other) in lines][0]
         self.waiting[c].remove(event)
-        self.lines[self.line(event)].append(event)
+        self.rows[self.line(event)].append(event)
 
     def drain_all(self):
         """Let all that waits leave the buffers, the first core first, the oldest store first."""
@@ -62,7 +62,7 @@ class Traces:
     def paper(self):
         """Return the paper that is read off."""
         sources = tuple([(event, self.sources[event]) for event in sorted(self.sources)])
-        return (sources, tuple([tuple(row) for row in self.lines]))
+        return (sources, tuple([tuple(row) for row in self.rows]))
 
 
 def paper_of(program, moves, order):

@@ -47,8 +47,8 @@ def is_comes(table, paper):
     if not has_parts(paper, 3) or paper[0] != "comes":
         return False
     _, count, moves = paper
-    named = [number for move in moves for number in (move[2:] if move[:1] == ("row",) else move[1:2])]
-    state = line_led_to(table, looked_at(count, named), moves)
+    fewer, told = looked_at(count, moves, 4)
+    state = line_led_to(table, fewer, told)
     return state is not None and is_fault(table[0], state, moves)
 
 

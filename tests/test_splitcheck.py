@@ -460,6 +460,22 @@ class ComesTests(unittest.TestCase):
         ):
             (self.taken if right else self.none)(table, ("comes", count, moves))
 
+    def test_caches_of_any_numbers(self):
+        """The numbers of those that make moves may be large, too"""
+        word, count, moves = split_verdict(FORGETFUL)
+        for numbers in ((BIG, 7), (7, BIG), (BIG + 1, BIG), (0, BIG + 3)):
+            told = []
+            for move in moves:
+                at = 2 if move[0] == "row" else 1
+                told.append(move if move[at] == -1 else move[:at] + (numbers[move[at]],) + move[at + 1:])
+            for many in (max(numbers) + 1, max(numbers) + 2, BIG * BIG):
+                self.taken(FORGETFUL, (word, many, told))
+            for few in (max(numbers), min(numbers), 2, BIG - 1):
+                self.none(FORGETFUL, (word, few, told))
+        self.none(SELF, ("comes", BIG, [("row", 0, BIG, -1), ("row", 1, BIG, 0)]))
+        self.taken(SELF, ("comes", BIG, [("row", 0, BIG - 1, -1), ("row", 1, BIG - 1, 0)]))
+        self.none(SELF, ("comes", BIG, [("row", 0, -2, -1), ("row", 1, -2, 0)]))
+
     def test_places_are_no_caches(self):
         """The place of a message tells nothing about how many caches there are"""
         moves = [("row", 0, 0, -1)] * 3 + [("row", 1, 0, 2)]

@@ -383,6 +383,21 @@ class ComesTests(unittest.TestCase):
         table = ((0, 0, 1), 1, ((0, 0, -1, 0, 1, -1, (2, 1, 2), "keep", "keep"),))
         self.wrong(table, ("comes", 7, [("row", 0, 7, -1)]))
 
+    def test_caches_of_any_numbers(self):
+        """Also large ones of those that make moves, and wrong ones"""
+        table = forgetful(msi(), 4)
+        big = 10 ** 30
+        for one, other in ((big, 7), (7, big), (big + 1, big), (0, big)):
+            moves = [("row", 2, one, -1), ("store", one, 4), ("row", 1, other, one), ("row", 4, other, -1), ("load", one),
+                     ("store", other, 9)]
+            for count in (max(one, other) + 1, max(one, other) + 2, big * big):
+                self.right(table, ("comes", count, moves))
+            for count in (max(one, other), min(one, other), 2, big - 1):
+                self.wrong(table, ("comes", count, moves))
+        for move in (("row", 2, "0", -1), ("row", 1, 0, "1"), ("store", "0", 1), ("load", "x"), (), ("row",), ("row", 0, -7, -1)):
+            self.wrong(table, ("comes", big, [move]))
+            self.wrong(table, ("comes", big, moves + [move]))
+
     def test_old_copies_without_a_right(self):
         self.wrong(msi(), ("comes", 3, EXAMPLE))
         self.wrong(msi(), ("comes", 2, [("row", 2, 0, -1), ("store", 0, 1), ("store", 0, 2)]))
