@@ -135,3 +135,20 @@ def random_moves(source, table, program, most):
         if step(table, program, state, move):
             moves.append(move)
     return moves
+
+
+def bad_part(program, moves):
+    """Return the moves of the line 0 as those of a play, and the cores that swap, in order."""
+    bad, swaps = [], []
+    made = [0] * len(program)
+    for move in moves:
+        if move[:2] == ("row", 0):
+            bad.append(("row",) + move[2:])
+        if move[0] == "make":
+            instruction = program[move[1]][made[move[1]]]
+            made[move[1]] += 1
+            if instruction[0] == "swap":
+                swaps.append(move[1])
+                bad.append(("store", move[1], instruction[2]))
+                assert instruction == ("swap", 0, len(swaps)), instruction
+    return bad, swaps

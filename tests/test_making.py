@@ -124,7 +124,7 @@ class MadeTests(unittest.TestCase):
         seen = machines.seen(state)
         self.assertTrue(told.is_right(program, seen, proof))
         self.assertEqual([made for made, _ in seen], [len(core) for core in program])
-        bad, last = self.bad_part(program, moves)
+        bad, last = machines.bad_part(program, moves)
         self.assertEqual(len(bad), len(bad_run(table)))
         end = play(table, len(program), bad)
         old = [(k, copy) for k, (at, copy) in enumerate(end[2]) if table[0][at] > 0 and copy != len(last)]
@@ -150,22 +150,6 @@ class MadeTests(unittest.TestCase):
             with self.assertRaises(NoAnswer):
                 buffered_run(program, seen)
         return word
-
-    def bad_part(self, program, moves):
-        """Return the moves of the line 0 as those of a play, and the cores that swap, in order."""
-        bad, swaps = [], []
-        made = [0] * len(program)
-        for move in moves:
-            if move[:2] == ("row", 0):
-                bad.append(("row",) + move[2:])
-            if move[0] == "make":
-                instruction = program[move[1]][made[move[1]]]
-                made[move[1]] += 1
-                if instruction[0] == "swap":
-                    swaps.append(move[1])
-                    bad.append(("store", move[1], instruction[2]))
-                    self.assertEqual(instruction, ("swap", 0, len(swaps)))
-        return bad, swaps
 
     def test_coherent_tables(self):
         for table in (msi(), mesi(), mosi(), SMALL_COHERENT, NO_ROWS, ALONE):

@@ -54,7 +54,7 @@ class MadeTests(unittest.TestCase):
         self.assertTrue(proofs_told.is_right(program, seen, proof))
         self.assertIs(sight_proved(program, seen, proof), True)
         self.assertEqual([made for made, _ in seen], [len(core) for core in program])
-        bad, swaps = self.bad_part(program, moves)
+        bad, swaps = machines.bad_part(program, moves)
         self.assertEqual(len(bad), len(split_bad_run(table)))
         end = split_play(table, count, bad)
         old = [(k, copy) for k, (at, copy) in enumerate(end[2]) if table[0][at] > 0 and copy != len(swaps)]
@@ -81,22 +81,6 @@ class MadeTests(unittest.TestCase):
             with self.assertRaises(NoAnswer):
                 buffered_run(program, seen)
         return word
-
-    def bad_part(self, program, moves):
-        """Return the moves of the line 0 as those of a play, and the cores that swap, in order."""
-        bad, swaps = [], []
-        made = [0] * len(program)
-        for move in moves:
-            if move[:2] == ("row", 0):
-                bad.append(("row",) + move[2:])
-            if move[0] == "make":
-                instruction = program[move[1]][made[move[1]]]
-                made[move[1]] += 1
-                if instruction[0] == "swap":
-                    swaps.append(move[1])
-                    bad.append(("store", move[1], instruction[2]))
-                    self.assertEqual(instruction, ("swap", 0, len(swaps)))
-        return bad, swaps
 
     def test_coherent_tables(self):
         for table in (split_msi(), ASKING, NO_SPLIT_ROWS, SPLIT_ALONE):
