@@ -77,6 +77,8 @@ class TextTests(unittest.TestCase):
         self.malformed("rights 0 3 homes 1 messages 1", 2)
         self.malformed("rights 0 0 0 0 0 0 0 0 0 homes 1 messages 1", 9)
         self.malformed("rights 0 0 0 0 0 0 0 0 messages", 9)
+        self.malformed("rights - homes 1 messages 1", 1)
+        self.malformed("rights 0 - homes 1 messages 1", 2)
         self.malformed("rights 0 homes 1", 4)
         self.malformed("rights 0 homes 1 : 0", 4)
         self.malformed("rights 0 homes 1 messages", 5)
@@ -118,11 +120,24 @@ class TextTests(unittest.TestCase):
         start = HEAD + "1 1 2 1 1 0 0 "
         self.assertEqual(read_split(start + "0 own 2 got ; keep keep")[3][0][6], ((0, "own"), (2, "got")))
         self.assertEqual(read_split(start + "; keep keep")[3][0][6], ())
-        for text, at in (("3 own ; keep keep", 15), ("- own ; keep keep", 15), ("own ; keep keep", 15), ("keep keep", 15),
+        for text, at in (("3 own ; keep keep", 15), ("0 own - got ; keep keep", 17), ("0 - ; keep keep", 16), ("- own ; keep keep", 15), ("own ; keep keep", 15), ("keep keep", 15),
                          ("0 keep ; keep keep", 16), ("0 ; keep keep", 16), ("0 0 ; keep keep", 16), ("0 other", 16),
                          ("0 own 3 own ; keep keep", 17), ("0 own keep keep", 17), ("0 own 1 1", 18), ("0 own 1 ;", 18),
                          ("0 own 1 got 2 home ; keep keep", 19), ("0 own 1 got keep keep", 19), ("0 own 1 got : keep", 19)):
             self.malformed(start + text, at)
+
+    def test_a_sign_for_no_number(self):
+        """`-` stands for home, own and gets alone, and behind the row where it stands ahead of it"""
+        words = (HEAD + "1 1 2 1 1 0 1 0 own 2 got ; keep keep").split(" ")
+        taken = []
+        for at in range(8, len(words)):
+            try:
+                read_split(" ".join(words[:at] + ["-"] + words[at + 1:]))
+                taken.append(at)
+            except Malformed as error:
+                # A `-` that may stand there leaves what stands behind it wrong.
+                self.assertEqual(error.at, {8: 11, 9: 12, 10: 18}.get(at, at))
+        self.assertEqual(taken, [])
 
     def test_words_for_copies(self):
         """Each word, with and without a home, an own state and a message"""
